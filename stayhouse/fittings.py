@@ -95,10 +95,7 @@ class Order(Fitting):
         return isinstance(other, Order) and self.table == other.table
 
     def __str__(self):
-        if not self.table:
-            return "order -"
-        parts = " , ".join([f"{size} : {lockers_text(lockers)}" for size, lockers in self.table])
-        return f"order {parts}"
+        return f"order {table_text(self.table)}"
 
 
 class By(Fitting):
@@ -138,7 +135,6 @@ class Joined(Fitting):
         self.deep = deep
 
     def __call__(self, free, size):
-        check_asked(free, size)
         locker = self.one(free, size)
         if locker is not None:
             return locker
@@ -174,6 +170,13 @@ def first_free(free, lockers):
         if locker in free:
             return locker
     return None
+
+
+def table_text(table):
+    """The table of an Order as a text tells it."""
+    if not table:
+        return "-"
+    return " , ".join([f"{size} : {lockers_text(lockers)}" for size, lockers in table])
 
 
 def lockers_text(lockers):

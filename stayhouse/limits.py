@@ -68,8 +68,7 @@ class Limit:
         return isinstance(other, Limit) and limit_parts(self) == limit_parts(other)
 
     def __str__(self):
-        word = "year" if self.YEARLY else "once"
-        return f"{word} {self.bound} : {self.weights}"
+        return f"{kind_text(self)} {self.bound} : {self.weights}"
 
 
 class YearLimit(Limit):
@@ -94,6 +93,11 @@ class YearLimit(Limit):
 def limit_parts(limit):
     """What makes limits equal."""
     return limit.YEARLY, limit.bound, limit.weights
+
+
+def kind_text(limit):
+    """The first word of the text of a limit."""
+    return "year" if limit.YEARLY else "once"
 
 
 def rebound(limit, bound):

@@ -20,9 +20,8 @@ def shows_tops(promise, tops, year_tops):
 def are_tops(tops, names, columns, bounds, what):
     """Whether any value is the tuple of the Counts of all greatest numbers that keep the bounds."""
     told = numbers_of(tops, names)
-    if told is None or not told:
-        return False
-    if not is_ascending(told) or not all([is_kept(numbers, columns, bounds) for numbers in told]):
+    # Nothing told is wrong, too: there is always a greatest one.
+    if not told or not is_ascending(told) or not all([is_kept(numbers, columns, bounds) for numbers in told]):
         return False
     if has_lesser(told):
         return False
@@ -30,13 +29,13 @@ def are_tops(tops, names, columns, bounds, what):
 
 
 def numbers_of(tops, names):
-    """The list of the numbers by these names of a tuple of Counts; None for any value that is none of them alone."""
+    """The list of the numbers by these names of a tuple of Counts; an empty one for any value that is none."""
     if not isinstance(tops, tuple):
-        return None
+        return []
     told = []
     for top in tops:
         if not isinstance(top, Counts) or not all([name in names for name in top.names]):
-            return None
+            return []
         told.append(tuple([top[name] for name in names]))
     return told
 

@@ -146,8 +146,6 @@ class Promise:
 
     def needless(self):
         """The indexes of the limits each of which, left out alone, leaves the same let rows."""
-        if not self.limits:
-            return ()
         # Those of this promise are the same for each index: if there are too many, the first one tells.
         peaks = self.peaks()
         year_peaks = self.year_peaks()

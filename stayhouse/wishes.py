@@ -88,13 +88,17 @@ class Wish:
         return isinstance(other, Wish) and parts_of(self) == parts_of(other)
 
     def __str__(self):
-        picks = " , ".join([f"{site} {keep}" for site, keep in self.picks])
-        return f"{self.name} : {picks} ; size {self.size} ; cart {cart_text(self)} ; price {self.price}"
+        return f"{self.name} : {picks_text(self)} ; size {self.size} ; cart {cart_text(self)} ; price {self.price}"
 
 
 def parts_of(wish):
     """All attributes of a wish."""
     return wish.name, wish.picks, wish.size, wish.cart, wish.back, wish.price
+
+
+def picks_text(wish):
+    """What the text of a wish tells of his picks."""
+    return " , ".join([f"{site} {keep}" for site, keep in wish.picks])
 
 
 def cart_text(wish):

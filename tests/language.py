@@ -303,6 +303,10 @@ def doubles(file, files):
                 yield "L28", node.lineno
             if node.name == "__iter__" and len(node.body) != 1:
                 yield "L5", node.lineno
+            if node.name in ("__eq__", "__str__", "__repr__", "__len__"):
+                for one in ast.walk(node):
+                    if isinstance(one, ast.Assign) and not isinstance(one.value, (ast.List, ast.ListComp)):
+                        yield "L28", one.lineno
         for default in node.args.defaults + [one for one in node.args.kw_defaults if one]:
             if not isinstance(default, (ast.Constant, ast.Tuple, ast.UnaryOp)):
                 yield "L4", node.lineno

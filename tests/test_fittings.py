@@ -243,6 +243,9 @@ class TextsTest(StayTest):
         self.raises(BadText(0, 100), Fitting.read, " ".join(["("] * 101))
         self.raises(BadText(0, 100), Fitting.read, " ".join(["("] * 101 + ["least"] + ["| least )"] * 101))
         self.raises(BadText(0, 100), Fitting.read, " ".join(["("] * 100))
+        self.raises(BadText(0, 300), Fitting.read, " ".join(["( least |"] * 100 + ["( least"]))
+        right = " ".join(["( least |"] * 100 + ["least"] + [")"] * 100)
+        self.assertEqual(str(Fitting.read(right)), right)
         self.raises(BadText(0, 4), Fitting.read, "( least | (")
         # Side by side there may be more than a hundred.
         right = "( least | least )"

@@ -69,6 +69,9 @@ class AskedTest(StayTest):
                 self.raises(BadNumber(value), lambda: rack[value])
                 self.raises(BadNumber(value), rack.from_size, value)
             self.assertIs(value in rack, value == 1 and value is not True)
+        # Nothing is counted from the end.
+        last = Rack.of({9: 1})
+        self.same([9 in last, 0 in last, 18 in last, -9 in last], [True, False, False, False])
 
 
 class ReckonedTest(StayTest):
