@@ -8,10 +8,47 @@ from language import File, findings
 
 FOLDER = os.path.join(os.path.dirname(os.path.dirname(os.path.abspath(__file__))), "stayhouse")
 
+FUNCTIONS = {
+    "checks": "is_integer is_within is_amount is_name", "words": "number_of", "promises": "greatest",
+    "look_promises": "shows_tops", "rows": "rows",
+}
+
+# The methods that stand in the body of each class itself.
+CLASSES = {
+    "papers": {"Paper": "", "Denial": "__bool__"},
+    "counts": {"Counts": "__init__ of read __len__ __iter__ __contains__ __getitem__ __add__ __sub__ __and__ __or__ __le__ "
+                         "__ge__ __lt__ __gt__ __mul__ __eq__ __str__"},
+    "wishes": {"Wish": "__init__ with_picks with_price keep_at __eq__ __str__ read"},
+    "limits": {"Limit": "__init__ of weigh keeps __add__ __sub__ __eq__ __str__ read", "YearLimit": "__init__ of read"},
+    "promises": {"Promise": "__init__ of __len__ __iter__ __contains__ __and__ __eq__ __str__ read keeps can_come standings "
+                            "years peaks year_peaks __le__ needless"},
+    "rows": {"Row": "__init__ of __len__ __iter__ __add__ front only __eq__ broken is_let __str__ read"},
+    "sites": {"Site": "__init__ with_hall with_gate with_line __eq__ __str__ read"},
+    "plans": {"Plan": "__init__ __getitem__ __contains__ __len__ __iter__ site_of fitting_of with_wish with_site with_promise "
+                      "with_fitting __eq__"},
+    "racks": {"Rack": "__init__ of __getitem__ from_size __iter__ __len__ __contains__ __add__ __sub__ __le__ __lt__ __ge__ "
+                      "__gt__ __and__ __or__ __mul__ __eq__ __str__ read"},
+    "fittings": {"Fitting": "__call__ __or__ read", "Least": "__call__ __eq__ __str__", "Greatest": "__call__ __eq__ __str__",
+                 "Order": "__init__ __call__ __eq__ __str__", "By": "__init__ __call__ __eq__ __str__"},
+}
+
 
 class LanguageTest(unittest.TestCase):
     def test_rules(self):
         self.assertEqual(findings(FOLDER), [])
+
+    def test_functions_stand_in_their_files(self):
+        for name, functions in FUNCTIONS.items():
+            found = [node.name for node in File(os.path.join(FOLDER, f"{name}.py")).tree.body if isinstance(node, ast.FunctionDef)]
+            self.assertEqual(set(functions.split()) - set(found), set(), name)
+
+    def test_methods_stand_in_their_classes(self):
+        for name, classes in CLASSES.items():
+            file = File(os.path.join(FOLDER, f"{name}.py"))
+            found = {node.name: [one.name for one in node.body if isinstance(one, ast.FunctionDef)] for node in file.classes}
+            for kind, methods in classes.items():
+                self.assertIn(kind, found)
+                self.assertEqual(set(methods.split()) - set(found[kind]), set(), kind)
 
 
 if __name__ == "__main__":
