@@ -77,7 +77,9 @@ class YearLimit(Limit):
     YEARLY = True
 
     def __init__(self, bound, **weights):
-        super().__init__(bound, **weights)
+        told = bound if isinstance(bound, Weighed) else weighed(bound, weights)
+        self.bound = told.bound
+        self.weights = told.weights
 
     @classmethod
     def of(cls, bound, weights):

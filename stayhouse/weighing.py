@@ -54,21 +54,26 @@ def last_place(columns, numbers, rests):
     return -1, rests
 
 
+def tally_behind(columns, numbers, rests):
+    """The next tuple of numbers that keeps the bounds, None behind the last one, and the rests behind it."""
+    at, rests = last_place(columns, numbers, rests)
+    if at < 0:
+        return None, rests
+    further = numbers[:at] + (numbers[at] + 1,) + (0,) * (len(numbers) - at - 1)
+    return further, rests_behind(columns[at], rests, 1)
+
+
 def tallies(columns, bounds, what):
     """All tuples of numbers that keep the bounds, ascending, each with the rests behind it."""
     numbers = (0,) * len(columns)
     rests = bounds
     many = 0
-    while True:
+    while numbers is not None:
         many += 1
         if many > MOST_TALLIES:
             raise TooMany(what, MOST_TALLIES)
         yield numbers, rests
-        at, rests = last_place(columns, numbers, rests)
-        if at < 0:
-            return
-        numbers = numbers[:at] + (numbers[at] + 1,) + (0,) * (len(numbers) - at - 1)
-        rests = rests_behind(columns[at], rests, 1)
+        numbers, rests = tally_behind(columns, numbers, rests)
 
 
 def counts_from(names, numbers):
@@ -78,8 +83,16 @@ def counts_from(names, numbers):
 
 def full_tallies(columns, bounds, what):
     """Those of the tallies behind which nobody can come, ascending."""
+    # Orders of promises ask for them, and what an operator runs goes over no generator: so the loop stands here, too.
     found = []
-    for numbers, rests in tallies(columns, bounds, what):
+    numbers = (0,) * len(columns)
+    rests = bounds
+    many = 0
+    while numbers is not None:
+        many += 1
+        if many > MOST_TALLIES:
+            raise TooMany(what, MOST_TALLIES)
         if is_full(columns, rests):
             found.append(numbers)
+        numbers, rests = tally_behind(columns, numbers, rests)
     return found

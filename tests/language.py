@@ -86,6 +86,7 @@ def findings(folder):
     for file in files:
         for look in (characters, sizes, imports, module_level, nodes, names, calls, sets, doubles, bindings, orders):
             found += [f"{rule} {file.name}.py:{line}" for rule, line in look(file, files)]
+        found += [f"L6 {file.name}.py:{line}" for line in exits(file)]
     found += cycles(files) + generators(files) + operators(files) + classes(files)
     return found
 
@@ -191,6 +192,8 @@ def names(file, files):
     known = set(file.defined) | set(file.imported)
     for node in ast.walk(file.tree):
         if isinstance(node, ast.Name) and isinstance(node.ctx, ast.Load):
+            if is_setter(file.parents[node]):
+                continue
             if node.id not in known and node.id not in BUILTINS and node.id not in local_names(file, node):
                 yield "L8", node.lineno
             if node.id == "_":
@@ -207,6 +210,11 @@ def names(file, files):
             if node in file.tree.body and node.name == "is_integer":
                 continue
             yield "L17", node.lineno
+
+
+def is_setter(node):
+    """Whether a node is the decorator of the setter of a property."""
+    return isinstance(node, ast.Attribute) and node.attr == "setter"
 
 
 def enclosing(file, node, kind):
@@ -311,7 +319,8 @@ def doubles(file, files):
             if not isinstance(default, (ast.Constant, ast.Tuple, ast.UnaryOp)):
                 yield "L4", node.lineno
     for node in file.classes:
-        names_of = [one.name for one in node.body if isinstance(one, ast.FunctionDef)]
+        names_of = [one.name for one in node.body if isinstance(one, ast.FunctionDef)
+                    and not any(is_setter(decorator) for decorator in one.decorator_list)]
         if "__getitem__" in names_of and "__iter__" not in names_of:
             yield "L5", node.lineno
         if node.decorator_list or len(set(names_of)) != len(names_of):
@@ -408,6 +417,8 @@ def operators(files):
             continue
         seen.append(node)
         found += [f"L5 operator {file.name}.py:{line}" for line in changes(node)]
+        if is_generator(node):
+            found.append(f"L28 generator {file.name}.py:{node.lineno}")
         for call in [one for one in ast.walk(node) if isinstance(one, ast.Call)]:
             name = call.func.id if isinstance(call.func, ast.Name) else call.func.attr
             waiting.extend(by_name.get(name, []))
@@ -436,6 +447,16 @@ def changes(node):
             yield one.lineno
 
 
+def exits(file):
+    """What stands in an `__exit__` of the package: attributes of self that are assigned attributes, nothing else."""
+    for node in file.functions:
+        for one in node.body if node.name == "__exit__" else ():
+            if not isinstance(one, ast.Assign) or not isinstance(one.targets[0], ast.Attribute) or len(one.targets) > 1:
+                yield one.lineno
+            elif not isinstance(one.targets[0].value, ast.Name) or not isinstance(one.value, ast.Attribute):
+                yield one.lineno
+
+
 def classes(files):
     """Names of methods, attributes, class values and static methods: L5, L18."""
     found = []
@@ -450,13 +471,14 @@ def classes(files):
                         if isinstance(name, ast.Attribute) and isinstance(name.ctx, ast.Store):
                             attributes.setdefault(name.attr, []).append(node.name)
     for name in attributes:
-        if name in fixed or set(attributes[name]) & set(methods.get(name, [])):
+        # Stricter than the rule: also of other classes, a name is either that of methods or that of attributes.
+        if name in fixed or name in methods:
             found.append(f"L18 attribute {name}")
     found += [f"L5 static {name}" for name in fixed if name in methods]
     read = {node.attr for file in files for node in ast.walk(file.tree)
             if isinstance(node, ast.Attribute) and isinstance(node.ctx, ast.Load)}
     values = {target.id for file in files for node in file.classes for one in node.body
               if isinstance(one, ast.Assign) for target in one.targets}
-    for name in read - set(attributes) - set(methods) - set(fixed) - values - METHODS - {"__class__", "__name__"}:
+    for name in read - set(attributes) - set(methods) - set(fixed) - values - METHODS - {"__class__", "__name__", "setter"}:
         found.append(f"L18 read {name}")
     return found

@@ -2,6 +2,7 @@
 
 import ast
 import os
+import tempfile
 import unittest
 
 from language import File, findings
@@ -33,9 +34,42 @@ CLASSES = {
 }
 
 
+REACHING = """
+class Box:
+    def __init__(self, rows):
+        self.rows = rows
+
+    def __le__(self, other):
+        return {call}
+
+    def __eq__(self, other):
+        return isinstance(other, Box) and self.rows == other.rows
+
+    @property
+    def told(self):
+        return len(self.rows)
+
+
+def all_of(box):
+    return list(rows_of(box))
+
+
+def rows_of(box):
+    for row in box.rows:
+        yield row
+"""
+
+
 class LanguageTest(unittest.TestCase):
     def test_rules(self):
         self.assertEqual(findings(FOLDER), [])
+
+    def test_operators_reach_no_generator(self):
+        for call, expected in (("self.told <= other.told", []), ("len(all_of(self)) <= 1", ["L28 generator box.py:22"])):
+            with tempfile.TemporaryDirectory() as folder:
+                with open(os.path.join(folder, "box.py"), "w", encoding="utf-8") as file:
+                    file.write('"""Boxes."""\n' + REACHING.replace("{call}", call))
+                self.assertEqual(findings(folder), expected, call)
 
     def test_functions_stand_in_their_files(self):
         for name, functions in FUNCTIONS.items():
