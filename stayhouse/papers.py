@@ -19,3 +19,20 @@ class Denial(Paper):
 
     def __bool__(self):
         return False
+
+
+def is_lasting(value):
+    """Whether nobody can change any value, as there is no list and no dict in it."""
+    if isinstance(value, tuple):
+        return all([is_lasting(part) for part in value])
+    return not isinstance(value, (list, dict))
+
+
+def lasting(value):
+    """What a paper keeps of any value: an equal one that later changes to the value do not reach."""
+    if is_lasting(value):
+        return value
+    if isinstance(value, dict):
+        return {key: lasting(value[key]) for key in value}
+    parts = [lasting(part) for part in value]
+    return tuple(parts) if isinstance(value, tuple) else parts

@@ -34,6 +34,22 @@ def counts_of(names):
     return Counts.of(numbers)
 
 
+def broken_at(promise, events):
+    """The index of the first event of a row behind which it is not let; None if it is let."""
+    frame = Frame(promise)
+    rests = frame.bounds
+    came = []
+    for at, event in enumerate(events):
+        if isinstance(event, str):
+            if not frame.lets(event, rests):
+                return at
+            rests = frame.rests_with(event, rests)
+            came.append(event)
+        else:
+            rests = frame.rests_without(came[event], rests)
+    return None
+
+
 class Row:
     """A row of events: a name comes, the guest of a number goes."""
 
@@ -113,18 +129,7 @@ class Row:
     def broken(self, promise):
         """The index of the first event behind which the row is not let; None if it is let."""
         check_promise(promise)
-        frame = Frame(promise)
-        rests = frame.bounds
-        came = []
-        for at, event in enumerate(self.events):
-            if isinstance(event, str):
-                if not frame.lets(event, rests):
-                    return at
-                rests = frame.rests_with(event, rests)
-                came.append(event)
-            else:
-                rests = frame.rests_without(came[event], rests)
-        return None
+        return broken_at(promise, self.events)
 
     def is_let(self, promise):
         """Whether a promise lets the row."""
