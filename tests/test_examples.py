@@ -80,15 +80,22 @@ ROWS = """
 raises BadText(0, 2)
 """
 
-# Those of the examples behind stayhouse/look_places.py that need no place.
-PLANS = """
+PLACES = """
+>>> from stayhouse.look_places import shows_places
+>>> from stayhouse.places import Crowded, Housed, PlaceWeb, enough, judged_places, least_bays, offer, taken
 >>> from stayhouse.plans import Plan
 >>> from stayhouse.sites import Site
 >>> sites = [Site("near", "east", "front"), Site("far", "east", "back")]
 >>> wishes = [Wish("rider", [("near", 0), ("far", 0)]), Wish("walker", [("far", 0)])]
 >>> plan, bays = Plan(wishes, sites, Promise(Limit(2, rider=1, walker=1))), {"near": 1, "far": 2}
->>> [plan.names, plan.halls, plan.gates, plan.pairs[1:], plan.counted, str(plan.site_of("far"))]
-[('rider', 'walker'), ('east',), ('back', 'front'), (('rider', 'near'), ('walker', 'far')), (), 'far east back 1']
+>>> [plan.names, plan.halls, plan.gates, plan.pairs[1:], plan.counted, str(plan.site_of("far")), str(enough(plan)), [str(one) for one in least_bays(plan)]]
+[('rider', 'walker'), ('east',), ('back', 'front'), (('rider', 'near'), ('walker', 'far')), (), 'far east back 1', 'far 2 near 2', ['far 2']]
+>>> held, web = (("rider", "far", 1), ("walker", "far", 1)), PlaceWeb(plan, bays)
+>>> [str(taken(held)), offer(plan, bays, held, "rider"), offer(plan, {"far": 2}, held, "rider"), len(web), bool(web), web.row_to((held, ())), [step[:3] for step in web.steps((held, ()))]]
+['far 2', 'near', None, 8, True, ('rider', 'rider', 0, 'walker'), [('go', 'rider', 'far'), ('go', 'walker', 'far')]]
+>>> few = {"near": 1, "far": 1}
+>>> [judged_places(plan, few) == Crowded(("walker", "walker")), len(PlaceWeb(plan, few).refused), shows_places(plan, bays, judged_places(plan, bays)), shows_places(plan, few, Crowded(("rider", "rider", 0, "walker"))), shows_places(plan, {"far": 2}, Housed((((), ()),)))]
+[True, 2, True, True, False]
 >>> Plan(wishes, sites[:1], Promise(Limit(2, rider=1, walker=1)))
 raises NoSite('far')
 """
@@ -107,11 +114,105 @@ True
 raises BadRule('locker')
 """
 
+LOCKERS = """
+>>> from stayhouse.limits import Limit
+>>> from stayhouse.lockers import LockerWeb, Short, free_lockers, judged_hall, least_racks, most_there
+>>> from stayhouse.look_lockers import shows_hall
+>>> from stayhouse.plans import Plan
+>>> from stayhouse.promises import Promise
+>>> from stayhouse.sites import Site
+>>> from stayhouse.wishes import Wish
+>>> bag, box = Wish("bag", [("bay", 0)], size=1), Wish("box", [("bay", 0)], size=2)
+>>> plan, bays = Plan([bag, box], [Site("bay", "hall", "gate")], Promise(Limit(2, bag=1, box=1), Limit(1, box=1))), {"bay": 2}
+>>> pair = Rack(1, 1)
+>>> [judged_hall(plan, bays, "hall", pair) == Short(("bag", "bag", 0, "box")), most_there(plan, bays, "hall")[:3], [str(rack) for rack in least_racks(plan, bays, "hall")]]
+[True, (2, 1, 0), ['2 2', '1 2 2 1']]
+>>> apart = plan.with_promise(Promise(Limit(2, bag=1, box=2)))
+>>> [[str(rack) for rack in least_racks(apart, bays, "hall")], shows_hall(apart, bays, "hall", pair, judged_hall(apart, bays, "hall", pair)), str(free_lockers(pair, (("bag", "bay", 2, 1),)))]
+[['1 1 2 1'], True, '1 1']
+"""
+
+CARTS = """
+>>> from stayhouse.carts import back_of, gate_for, give, take
+>>> from stayhouse.cart_needs import most_out, need_of, own_need
+>>> from stayhouse.counts import Counts
+>>> from stayhouse.limits import Limit, YearLimit
+>>> from stayhouse.look_carts import shows_need
+>>> sites = [Site("near", "east", "front"), Site("far", "east", "back")]
+>>> wishes = [Wish("rider", [("near", 0), ("far", 0)], cart=True), Wish("guide", [("near", 0)], cart=True, back="back")]
+>>> twos = Limit(2, rider=1, guide=1)
+>>> free, plan = Plan(wishes, sites, Promise(twos, Limit(1, guide=1))), Plan(wishes, sites, Promise(twos, Limit(1, guide=1), YearLimit(3, guide=1)))
+>>> bays = {"near": 2, "far": 1}
+>>> [plan.gates, gate_for(plan, "rider", "far"), back_of(plan, "rider", "far"), back_of(plan, "guide", "near")]
+[('back', 'front'), 'back', 'back', 'back']
+>>> [str(take(plan, Counts(front=2), "guide", "near")), str(give(plan, Counts(front=1), "guide", "near"))]
+['front 1', 'back 1 front 1']
+>>> [need_of(plan, bays, "front").number, need_of(plan, bays, "front").row, need_of(plan, bays, "back").number, bool(need_of(free, bays, "front"))]
+[5, ('guide', 'rider', 0, 'guide', 2, 'guide', 3, 'rider'), 0, False]
+>>> [own_need(plan, "front"), own_need(plan, "back"), own_need(free, "front"), most_out(plan)]
+[5, 2, None, 2]
+>>> found = need_of(plan, bays, "front")
+>>> [len(found.heights), shows_need(plan, bays, "front", found), shows_need(plan, bays, "back", found), shows_need(free, bays, "front", need_of(free, bays, "front"))]
+[18, True, False, True]
+>>> take(plan, Counts(back=9), "rider", "near")
+raises Refused('carts', 'rider')
+>>> need_of(plan, {"near": 1}, "front")
+raises NoBay('rider')
+"""
+
+PURSE = """
+>>> from stayhouse.lines import Lacking, Lines, Moved, covered
+>>> from stayhouse.look_purse import shows_covered, shows_need_of_lines
+>>> from stayhouse.line_needs import least_sums, line_needs, need_of_lines, own_spent, spent_in
+>>> three = Lines([5, 0, 5], [5, 0])
+>>> [three.reach(1, 1), three.reach(2, 3), three.reach(3, 3), three.wanted((0, 5, 5)), three.can((0, 5, 5)), three.left_by([1, 4, 2]), three.wanted((1, 5, 5)), str(three), Lines.read("sums 7 ; caps -") == Lines((7,))]
+[5, 10, 5, (0, 5, 0), True, (0, 0, 3), (1, 5, 0), 'sums 5 0 5 ; caps 5 0', True]
+>>> [covered(three, (0, 5, 5)) == Moved((5, 0)), covered(three, (0, 0, 6)) == Lacking(3, 3), covered(three, (1, 5, 5)) == Lacking(1, 2), shows_covered(three, (0, 2, 1), Moved((4, 0))), shows_covered(three, (1, 5, 5), Lacking(1, 3))]
+[True, True, True, True, True]
+>>> sites = [Site("near", "east", "front", 1), Site("far", "east", "back", 2)]
+>>> wishes = [Wish("rider", [("near", 0), ("far", 0)], price=5), Wish("walker", [("far", 0)], price=2)]
+>>> plan = Plan(wishes, sites, Promise(Limit(2, rider=1, walker=1), YearLimit(3, rider=1), YearLimit(4, walker=1)))
+>>> bays = {"near": 1, "far": 2}
+>>> [line_needs(plan, bays), need_of_lines(plan, bays, 2, 2).row, spent_in(plan, bays, ("rider", "rider", 1, "rider"))]
+[{(1, 1): 15, (1, 2): 23, (2, 2): 18}, ('rider', 'rider', 1, 'rider', 0, 'walker', 2, 'walker', 3, 'walker', 4, 'walker'), (5, 10)]
+>>> [least_sums(plan, bays, (0,)), least_sums(plan, bays, (4,)), least_sums(plan, bays, (10,)), own_spent(plan, 2, 2), own_spent(plan, 1, 1)]
+[(15, 18), (15, 14), (15, 8), 23, 15]
+"""
+
+HOUSES = """
+>>> from stayhouse.beats import Given, asked, begin, behind_coming, behind_going
+>>> from stayhouse.house import House
+>>> from stayhouse.limits import Limit
+>>> from stayhouse.plans import Plan
+>>> from stayhouse.plays import first_refusal, played
+>>> from stayhouse.promises import Promise
+>>> from stayhouse.sites import Site
+>>> from stayhouse.stock import Stock
+>>> from stayhouse.wishes import Wish
+>>> sites = [Site("near", "east", "front", 1), Site("far", "east", "back", 1)]
+>>> wishes = [Wish("rider", [("near", 0), ("far", 0)], cart=True, price=5), Wish("walker", [("far", 0)], size=2)]
+>>> plan = Plan(wishes, sites, Promise(Limit(3, rider=1, walker=1)))
+>>> stock = Stock({"near": 1, "far": 2}, {"east": {1: 1, 3: 1}}, {"front": 2}, [8])
+>>> [str(stock), Stock.read(str(stock)) == stock, str(stock.rack("east")), stock <= stock.with_sum(1, 9)]
+['bays far 2 near 1 ; rack east 1 1 3 1 ; carts front 2 ; sums 8 ; caps -', True, '1 1 3 1', True]
+>>> house = House(plan, stock)
+>>> [house.come("ann", "rider") == Given("near", 0, "front", 1), house.come("bob", "walker") == Given("far", 3, None, None), str(house.free_bays), house.left, str(house.carts_now)]
+[True, True, 'far 1', (3,), 'front 1']
+>>> house.come("cid", "rider")
+raises Refused('carts', 'rider')
+>>> house.come("cid", "walker")
+raises Refused('lockers', 'walker')
+>>> [house.go("bob").site, str(house.now), str(house.so_far), house.undo(), "bob" in house, len(house.history), house.whole]
+['far', 'rider 1', 'rider 1 walker 1', True, True, 2, (((('rider', 'near', 0), 1), (('walker', 'far', 3), 1)), (('back', 0), ('front', 1)), (5,))]
+>>> [answer if isinstance(answer, str) else answer.site for answer in played(plan, stock, ("rider", "rider", "walker"))], first_refusal(plan, stock, ("rider", 0, "rider"))
+(['near', 'carts', 'far'], (2, 'purse'))
+"""
+
 
 class ExamplesTest(StayTest):
     def test_examples(self):
         names = {}
-        for text in (PAPERS, COUNTS, WISHES, LIMITS, PROMISES, ROWS, PLANS, FITTINGS):
+        for text in (PAPERS, COUNTS, WISHES, LIMITS, PROMISES, ROWS, PLACES, FITTINGS, LOCKERS, CARTS, PURSE, HOUSES):
             run_examples(self, text, names)
 
 

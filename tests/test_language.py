@@ -11,7 +11,12 @@ FOLDER = os.path.join(os.path.dirname(os.path.dirname(os.path.abspath(__file__))
 
 FUNCTIONS = {
     "checks": "is_integer is_within is_amount is_name", "words": "number_of", "promises": "greatest",
-    "look_promises": "shows_tops", "rows": "rows",
+    "look_promises": "shows_tops", "rows": "rows", "places": "taken there offer enough judged_places least_bays",
+    "look_places": "shows_places", "lockers": "free_lockers judged_hall most_there least_racks", "look_lockers": "shows_hall",
+    "carts": "gate_for back_of take give", "cart_needs": "need_of own_need most_out", "look_carts": "shows_need",
+    "lines": "covered", "line_needs": "spent_in need_of_lines line_needs least_sums own_spent",
+    "look_purse": "shows_covered shows_need_of_lines", "beats": "begin asked behind_coming behind_going",
+    "plays": "played first_refusal whole_behind",
 }
 
 # The methods that stand in the body of each class itself.
@@ -31,6 +36,18 @@ CLASSES = {
                       "__gt__ __and__ __or__ __mul__ __eq__ __str__ read"},
     "fittings": {"Fitting": "__call__ __or__ read", "Least": "__call__ __eq__ __str__", "Greatest": "__call__ __eq__ __str__",
                  "Order": "__init__ __call__ __eq__ __str__", "By": "__init__ __call__ __eq__ __str__"},
+    "places": {"PlaceWeb": "__init__ __len__ __iter__ __contains__ steps row_to refused __bool__ refusal", "Housed": "__init__",
+               "Crowded": "__init__"},
+    "lockers": {"LockerWeb": "__init__ __len__ __iter__ __contains__ steps row_to refused __bool__ refusal", "Fits": "__init__",
+                "Short": "__init__"},
+    "cart_needs": {"CartNeed": "__init__", "CartRing": "__init__"},
+    "line_needs": {"LineNeed": "__init__", "LineRing": "__init__"},
+    "lines": {"Lines": "__init__ __len__ __getitem__ __iter__ reach wanted can left_by __add__ __le__ __eq__ __str__ read",
+              "Moved": "__init__", "Lacking": "__init__"},
+    "stock": {"Stock": "__init__ rack __add__ __sub__ __le__ with_bays with_rack with_carts with_sum with_cap __eq__ __str__ read"},
+    "beats": {"Given": "__init__"},
+    "house": {"House": "__init__ come go __getitem__ __setitem__ __contains__ __len__ __iter__ wish_of plan now so_far free_bays "
+                       "carts_now left moved_on whole free_in stock set_stock history undo redo trial tried led __eq__"},
 }
 
 
