@@ -78,7 +78,7 @@ def most_of_both(plan, once, there):
     for year in plan.promise.years():
         key = tuple([year[name] for name in yearly])
         # Those who are there at last came in this year, too, and nobody else of their wishes.
-        if key in most and all([name in once or name in yearly for name in year.names]):
+        if key in most:
             best = max(int(best), most[key] + sum([year[name] for name in once]))
     return best
 

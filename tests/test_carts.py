@@ -68,7 +68,10 @@ class CartsTest(StayTest):
         self.raises(Refused("carts", "rider"), take, PLAN, Counts(front=9), "rider", "far")
         self.raises(Refused("carts", "guide"), take, PLAN, Counts(back=9), "guide", "near")
         none = Plan([Wish("a", [("near", 0)])], SITES, Promise(Limit(1, a=1)))
+        for function in (gate_for, back_of):
+            self.raises(NoSite("front"), function, none, "a", "front")
         for function in (take, give):
+            self.raises(NoSite("front"), function, none, Counts(), "a", "front")
             self.assertEqual(function(none, Counts(), "a", "near"), Counts())
             self.assertEqual(function(none, carts, "a", "far"), carts)
         self.assertEqual(carts, Counts(front=2, back=1, elsewhr=7))
@@ -178,6 +181,30 @@ class NeedTest(StayTest):
         self.assertEqual(need_of(plan, {"s": 1}, "away"), CartNeed(0, heights, ()))
         heights = {BEGIN: 0, (here, one): 1, ((), one): 1, (here, two): 2, ((), two): 2}
         self.assertEqual(need_of(plan, {"s": 1}, "g"), CartNeed(2, heights, ("a", 0, "a")))
+
+    def test_who_brings_carts_without_end(self):
+        # b and c bring a cart each time, as often as they like: the heights tell what the others then need at most.
+        sites = [Site("near", "h", "front"), Site("far", "h", "front")]
+        wishes = [Wish("a", [("near", 0), ("far", 0)], cart=True), Wish("b", [("near", 0)], cart=True, back="away"),
+                  Wish("c", [("far", 0)], cart=True, back="away")]
+        plan = Plan(wishes, sites, Promise(Limit(1, a=1), Limit(1, b=1), Limit(1, c=1), Limit(2, a=1, b=1, c=1)))
+        for bays in ({"near": 2, "far": 2}, {"near": 2, "far": 1}):
+            self.assertTrue(PlaceWeb(plan, bays))
+            paper = need_of(plan, bays, "away")
+            self.assertEqual((paper.number, paper.row, paper.heights), plain_need(plan, bays, gate_adds(plan, "away"), 6))
+
+    def test_detours_that_bring_carts(self):
+        # Only behind b, who is gone again, a has the far bay: then a cart came. With b there anew no second one has.
+        sites = [Site("near", "h", "front"), Site("far", "h", "front")]
+        wishes = [Wish("a", [("near", 0), ("far", 0)]), Wish("b", [("near", 0), ("far", 0)], cart=True, back="away")]
+        plan = Plan(wishes, sites, Promise(Limit(1, a=1), Limit(1, b=1)))
+        bays = {"near": 1, "far": 1}
+        self.assertTrue(PlaceWeb(plan, bays))
+        paper = need_of(plan, bays, "away")
+        self.assertEqual((paper.number, paper.row, paper.heights), plain_need(plan, bays, gate_adds(plan, "away"), 7))
+        far = ((("a", "far", 1),), ())
+        both = ((("a", "far", 1), ("b", "near", 1)), ())
+        self.assertEqual((paper.heights[far], paper.heights[both]), (-1, 0))
 
     def test_ring(self):
         paper = need_of(lone("away", Limit(1, a=1)), {"s": 1}, "g")
@@ -404,6 +431,11 @@ class LookCartsTest(StayTest):
         self.assertIs(shows_need(yearly, {"s": 1}, "g", CartNeed(2, heights, ("a", 0, "a"))), False)
         alone = lone("away", Limit(1, a=1), YearLimit(2, a=1))
         self.assertIs(shows_need(alone, {"s": 1}, "g", CartNeed(2, heights, ("a", 0, "a"))), True)
+
+    def test_rows_in_which_places_refuse(self):
+        for value in (CartNeed(0, {BEGIN: 0}, ("a", "a")), CartNeed(1, {BEGIN: 0}, ("a", "a")), CartRing(("a", "a"), ()), CartRing(("a", "a", 1), ())):
+            self.assertIs(shows_need(lone("away", Limit(2, a=1)), {"s": 1}, "g", value), False)
+            self.assertIs(shows_need(lone("away", Limit(2, a=1)), {}, "g", value), False)
 
     def test_rings(self):
         plan = lone("away", Limit(2, a=1))

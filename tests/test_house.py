@@ -395,6 +395,31 @@ class StockTest(StayTest):
             self.raises(BadHouse("stock"), setattr, house, "stock", value)
             self.assertEqual(snapshot(house), before)
 
+    def test_goings_of_the_history(self):
+        rich = Stock({"near": 2, "far": 2}, {"east": [0, 2]}, {"front": 2, "back": 2}, [99])
+        house = House(PLAN, rich)
+        for name, wish in (("ann", "rider"), ("bob", "rider")):
+            house.come(name, wish)
+        house.go("ann")
+        house.come("cid", "rider")
+        house.come("dan", "walker")
+        house.go("dan")
+        house.come("eve", "walker")
+        # With one near bay bob would get the far one; with one cart bob none; with one locker eve still gets hers.
+        for other in (rich.with_bays({"near": 1, "far": 2}), rich.with_carts("front", 1), rich.with_sum(1, 14)):
+            self.raises(BadHouse("stock"), house.set_stock, other)
+        for other in (rich.with_rack("east", [0, 1]), rich.with_bays({"near": 2, "far": 1}), rich.with_carts("back", 0), rich.with_sum(1, 15)):
+            house.set_stock(other)
+            self.assertEqual(house, House.led(PLAN, other, house.history))
+        # A guest who came and went leaves just one bay, for just one further guest.
+        lone = House(PLAN, rich)
+        lone.come("ann", "rider")
+        lone.go("ann")
+        lone.come("bob", "rider")
+        lone.come("cid", "rider")
+        self.raises(BadHouse("stock"), lone.set_stock, rich.with_bays({"near": 1, "far": 2}))
+        self.raises(BadHouse("stock"), lone.set_stock, rich.with_carts("front", 1))
+
     def test_same_history_from_the_begin_on(self):
         for plan, stock, rng in houses(131, 120):
             house = House(plan, stock)
@@ -470,7 +495,7 @@ class LedTest(StayTest):
 
     def test_wrong_deeds(self):
         here = ("come", "ann", "a")
-        forms = [["come", "bob", "a"], ("come", "bob"), ("come",), ("go",), ("go", "ann", "a"), ("come", "bob", "a", 1), ("stay", "bob", "a"),
+        forms = [["come", "bob", "a"], ("come", "bob"), ("come",), ("go",), ("go", "ann", "a"), ("come", "bob", "a", 1), ("go", "ann", 1, 2), ("stay", "bob", "a"),
                  ("come go", "bob"), ("GO", "ann"), (None, "ann"), (1, "bob", "a"), ((), "ann"), "go", ["go", "ann"]]
         for deed in forms:
             with self.assertRaises(BadRow) as caught:

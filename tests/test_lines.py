@@ -161,6 +161,13 @@ class LinesTest(StayTest):
         for lines in (THREE, ONE, Lines([1, 2]), Lines([0, 1, 2, 3, 4, 5], [9] * 5), Lines([10 ** 40 - 1, 0], [10 ** 39])):
             self.read_of(Lines.read, lines)
 
+    def test_words_left_out_put_in_and_exchanged(self):
+        text = "sums 5 0 ; caps 3"
+        self.doubled(Lines.read, text, {1: 7, 2: 7})
+        self.exchanged(Lines.read, text, {1: None, 2: 3})
+        # One sum has no cap.
+        self.left_out(Lines.read, text, {1: 4, 2: 4})
+
     def test_wrong_texts(self):
         self.read_wrong(Lines.read, {
             "": 0, "-": 0, "sums": 1, "sum 5": 0, "sums -": 1, "sums ; caps -": 1, "sums 5": 2, "sums 5 ;": 3, "sums 5 ; caps": 4,

@@ -138,6 +138,17 @@ class WebTest(StayTest):
         self.assertEqual(judged_hall(LONE, {"s": 2}, "h", Rack(1)), Short(("a", "a")))
         self.assertEqual(judged_hall(LONE, {}, "h", Rack()), Fits((BEGIN,)))
 
+    def test_lockers_come_back(self):
+        # Behind each going just his locker is free again, in each year.
+        plan = LONE.with_promise(Promise(Limit(3, a=1), YearLimit(6, a=1)))
+        web = LockerWeb(plan, {"s": 3}, "h", Rack(1, 1))
+        knots, refused = plain_web(plan, {"s": 3}, 9, "h", Rack(1, 1))
+        short = [knot for knot in web if len(web.row_to(knot)) <= 9]
+        self.assertEqual(short, list(knots))
+        self.assertEqual([pair for pair in web.refused if len(web.row_to(pair[0])) < 9], list(refused))
+        self.assertEqual(web.refusal(), ("a", "a", "a"))
+        self.assertIn(((((("a", "s", 2),), (("a", 5),)), (("a", "s", 1, 1), ("a", "s", 2, 1))), "a"), web.refused)
+
     def test_fittings(self):
         cases = ((None, 1), (Greatest(), 3), (Order({1: [2, 3]}), 2), (By(lambda free, size: 3 if 3 in free else None), 3))
         for fitting, locker in cases:
@@ -156,7 +167,8 @@ class WebTest(StayTest):
         below = here[0]
         for value in ANY + [below, ((), ()), (below, ()), (below, (("a", "s", 1, True),)), (below, (("a", "s", True, 1),)),
                             (below, [("a", "s", 1, 1)]), list(here), here + ((),), ((below[0],), here[1]), (below, (("a", "s", 3, 1),)),
-                            (((("a", "s", True),), ()), here[1]), (below, (["a", "s", 1, 1],)), (below, (("a", "s", 1),)), (below, None)]:
+                            (((("a", "s", True),), ()), here[1]), (below, (["a", "s", 1, 1],)), (below, (("a", "s", 1),)), (below, None),
+                            (([("a", "s", 1)], ()), here[1]), ((below[0], []), here[1]), (below, ([],))]:
             with self.subTest(knot=value):
                 self.assertFalse(value in web)
                 self.raises(BadHouse("knot"), web.steps, value)
@@ -208,7 +220,21 @@ class MostTest(StayTest):
         self.assertEqual(most_there(LONE, {}, "h"), (0,) * 9)
 
 
+    def test_sizes_from_1_to_9(self):
+        wishes = [Wish("a", [("s", 0)], size=9), Wish("b", [("s", 0)], size=8), Wish("c", [("s", 0)], size=1)]
+        plan = Plan(wishes, [Site("s", "h", "g")], Promise(Limit(4, a=2, b=1, c=1), Limit(2, b=2, c=1)))
+        self.assertEqual(most_there(plan, {"s": 4}, "h"), (3, 2, 2, 2, 2, 2, 2, 2, 2))
+        self.assertEqual(most_there(plan.with_promise(Promise(Limit(1, a=1, b=1), Limit(2, c=1))), {"s": 4}, "h"), (3,) + (1,) * 8)
+
+
 class LeastRacksTest(StayTest):
+    def test_greatest_sizes(self):
+        wishes = [Wish("a", [("s", 0)], size=9), Wish("b", [("s", 0)], size=8)]
+        plan = Plan(wishes, [Site("s", "h", "g")], Promise(Limit(2, a=1, b=1), Limit(1, a=1)))
+        self.assertEqual([rack.nine[6:] for rack in least_racks(plan, {"s": 2}, "h")], [(0, 0, 2), (0, 2, 1)])
+        only = Plan(wishes[:1], [Site("s", "h", "g")], Promise(Limit(2, a=1)))
+        self.assertEqual(least_racks(only, {"s": 2}, "h"), (Rack(0, 0, 0, 0, 0, 0, 0, 0, 2),))
+
     def test_against_plain_trying(self):
         rng = random.Random(24)
         compared = 0

@@ -91,6 +91,24 @@ class LookLockersTest(StayTest):
                       (((), ()), (("bag", "bay", 1, 1),)), ((bag, ()), (("bag", "bay", 10, 1),)), ((bag, ()), (("bag", "bay", 0, 1),))):
             self.assertIs(shows_hall(plan, {"bay": 1}, "hall", Rack(1, 1), Fits(right + (wrong,))), False, wrong)
 
+    def test_hall_refuses(self):
+        # A coming that places take and the hall does not: then no Fits is right.
+        self.assertIs(shows_hall(LONE, {"s": 1}, "h", Rack(), Fits((BEGIN,))), False)
+        self.assertIs(shows_hall(LONE, {}, "h", Rack(), Fits((BEGIN,))), True)
+        one = (((("a", "s", 1),), ()), (("a", "s", 1, 1),))
+        self.assertIs(shows_hall(LONE, {"s": 2}, "h", Rack(1), Fits((BEGIN, one))), False)
+        self.assertIs(shows_hall(LONE, {"s": 1}, "h", Rack(1), Fits((BEGIN, one))), True)
+
+    def test_further_knots_keep_the_promise_and_the_bays(self):
+        one = (((("a", "s", 1),), ()), (("a", "s", 1, 1),))
+        two = (((("a", "s", 2),), ()), (("a", "s", 1, 2),))
+        alone = LONE.with_promise(Promise(Limit(1, a=1)))
+        self.assertIs(shows_hall(alone, {"s": 2}, "h", Rack(2), Fits((BEGIN, one))), True)
+        self.assertIs(shows_hall(alone, {"s": 2}, "h", Rack(2), Fits((BEGIN, one, two))), False)
+        self.assertIs(shows_hall(LONE, {"s": 1}, "h", Rack(2), Fits((BEGIN, one, two))), False)
+        self.assertIs(shows_hall(LONE, {"s": 2}, "h", Rack(2), Fits((BEGIN, one, two))), True)
+        self.assertIs(shows_hall(LONE, {"s": 2}, "h", Rack(2), Fits((BEGIN, two))), False)
+
     def test_things_of_guests_elsewhere(self):
         plan = Plan([Wish("a", [("s", 0)], size=2), Wish("b", [("t", 0)], size=1), Wish("c", [("s", 0)])],
                     [Site("s", "h", "g"), Site("t", "k", "g")], Promise(Limit(1, a=1, b=1, c=1)))

@@ -101,6 +101,15 @@ class LookPlacesTest(StayTest):
         self.assertIs(shows_places(plan, {"s": 1}, Housed(knots + (((), (("a", 2),)),))), False)
         self.assertIs(shows_places(plan, {"s": 1}, Housed(knots[:1] + knots[2:])), False)
 
+    def test_years_ascend(self):
+        plan = PLAN.with_promise(Promise(Limit(1, rider=1, walker=1), YearLimit(1, rider=1), YearLimit(1, walker=1)))
+        knots = judged_places(plan, BAYS).knots
+        right = ((), (("rider", 1), ("walker", 1)))
+        self.assertIn(right, knots)
+        self.assertIs(shows_places(plan, BAYS, Housed(knots)), True)
+        for year in ((("walker", 1), ("rider", 1)), (("rider", 1), ("rider", 1)), (("rider", 1), ("rider", 0)), (("rider", 1, 1),)):
+            self.assertIs(shows_places(plan, BAYS, Housed(knots + (((), year),))), False, year)
+
     def test_true_is_one_as_python_compares(self):
         plan = LONE.with_promise(Promise(Limit(1, a=1)))
         knots = (BEGIN, ((("a", "s", True),), ()))

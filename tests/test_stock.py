@@ -145,6 +145,9 @@ class ChangedTest(StayTest):
         self.assertEqual((FULL.with_carts("f", 2).carts, FULL.with_carts(gate="g", number=0).carts), (Counts(f=2, g=3), Counts()))
         self.assertEqual((FULL.with_sum(2, 7).sums, FULL.with_sum(line=1, amount=0).sums), ((50, 7), (0, 20)))
         self.assertEqual((FULL.with_cap(1, 7).caps, FULL.with_cap(line=1, amount=0).caps), ((7,), (0,)))
+        three = Stock({}, None, None, [1, 2, 3, 4], [5, 6, 7])
+        self.assertEqual([three.with_cap(line, 9).caps for line in (1, 2, 3)], [(9, 6, 7), (5, 9, 7), (5, 6, 9)])
+        self.assertEqual([three.with_sum(line, 9).sums for line in (1, 2, 4)], [(9, 2, 3, 4), (1, 9, 3, 4), (1, 2, 3, 9)])
         self.assertEqual(str(FULL), "bays n 1 s 2 ; rack h 2 3 4 1 ; carts g 3 ; sums 50 20 ; caps 10")
 
     def test_wrong(self):
@@ -187,6 +190,19 @@ class TextsTest(StayTest):
         self.doubled(Stock.read, "bays - ; carts - ; sums - ; caps -", {0: 2, 3: 5})
         self.exchanged(Stock.read, "bays - ; carts - ; sums - ; caps -")
         self.left_out(Stock.read, "bays - ; carts - ; sums - ; caps -")
+
+    def test_words_left_out_put_in_and_exchanged(self):
+        def read(text):
+            # Where all words can stand, the class refuses another number of caps.
+            try:
+                return Stock.read(text)
+            except BadStock as error:
+                self.assertEqual(error.part, "caps")
+                return None
+        text = "bays s 1 ; rack h 1 2 ; carts g 3 ; sums 5 0 ; caps 7"
+        self.doubled(read, text, {0: 2, 4: 6, 6: 9, 7: 9, 9: 11, 14: None, 15: None, 18: None})
+        self.exchanged(read, text, {6: None, 12: 13, 14: None, 15: 16})
+        self.left_out(read, text, {6: 7, 12: 14, 14: None, 15: None})
 
     def test_wrong_texts(self):
         self.read_wrong(Stock.read, {
