@@ -55,7 +55,7 @@ def own_need(plan, gate):
     # Those who can leave a cart behind elsewhere count once for all, others who take one here while they are there.
     once = []
     there = []
-    for name in [name for name in plan.names if plan.promise.can_come(name)]:
+    for name in plan.promise.comers:
         pairs = [pair for pair in plan.pairs if pair[0] == name]
         if any([toll.takes[pair] > toll.gives[pair] for pair in pairs]):
             once.append(name)

@@ -19,10 +19,10 @@ class Ways:
 
     def __init__(self, search, toll):
         triples = search.guide.triples
-        pairs = [(name, site) for name, site, _ in triples]
+        gives = [toll.gives[(name, site)] for name, site, _ in triples]
         self.search = search
-        self.worth = [toll.takes[pair] - toll.gives[pair] for pair in pairs]
-        self.lent = [lent_at(search, stop, [toll.gives[pair] for pair in pairs]) for stop in search.stops]
+        self.worth = [toll.takes[(name, site)] - toll.gives[(name, site)] for name, site, _ in triples]
+        self.lent = lent_at(search, gives)
         self.levels = levels_of(search.stops)
         self.inner = [[] for _ in search.stops]
         self.outer = [[] for _ in search.stops]
@@ -103,9 +103,11 @@ class Ways:
         return new
 
 
-def lent_at(search, stop, gives):
-    """What those who are there at a stop will give back."""
-    return sum([gives[slot] * many for slot, many in search.slots_at(stop)])
+def lent_at(search, gives):
+    """The list of what those who are there will give back, for each stop; what each slot gives is told."""
+    guide = search.guide
+    givers = [slot for slot, more in enumerate(gives) if more > 0]
+    return [sum([gives[slot] * guide.number_at(stop.state, slot) for slot in givers]) for stop in search.stops]
 
 
 def levels_of(stops):
