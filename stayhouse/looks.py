@@ -19,6 +19,8 @@ class Look:
         self.bounds = bounds_of(limits)
         self.once = {name: part_of(columns[name], limits, False) for name in columns}
         self.yearly = {name: part_of(columns[name], limits, True) for name in columns}
+        # What `steps_from` told: one knot is looked at for many gates and intervals of lines.
+        self.known = {}
 
     def rests_at(self, knot):
         """What the limits leave at a knot."""
@@ -93,10 +95,13 @@ class Look:
 
     def steps_from(self, knot):
         """The list of all steps from a knot, and whether places refuse no let coming there."""
-        told = self.bays_from(knot)
-        comings = [("come", name, site, self.knot_with(knot, name, site)) for name, site in told if site is not None]
-        goings = [("go", name, site, self.knot_without(knot, name, site)) for name, site, _ in knot[0]]
-        return comings + goings, len(comings) == len(told)
+        if knot not in self.known:
+            told = self.bays_from(knot)
+            taken = [(name, site) for name, site in told if site is not None]
+            comings = [("come", name, site, self.knot_with(knot, name, site)) for name, site in taken]
+            goings = [("go", name, site, self.knot_without(knot, name, site)) for name, site, _ in knot[0]]
+            self.known[knot] = (comings + goings, len(comings) == len(told))
+        return self.known[knot]
 
     def hall_knots_from(self, knot):
         """The list of the hall knots behind all steps; None for a coming that the hall refuses."""

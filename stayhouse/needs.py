@@ -168,6 +168,11 @@ def ring_told(search, endless):
 
 def need_told(search, ways):
     """The greatest need, the dict of the least heights of all knots, and the least row that has the need."""
+    return need_with(ways, [knot_at(search, stop) for stop in search.stops])
+
+
+def need_with(ways, knots):
+    """The same, the knots of all stops being told."""
     heights = ways.greatest_needs()
-    table = {knot_at(search, stop): height for stop, height in zip(search.stops, heights)}
+    table = {knot: height for knot, height in zip(knots, heights)}
     return max([int(height) for height in heights]), table, ways.least_row()

@@ -3,6 +3,8 @@
 import re
 import unittest
 
+from stayhouse.books import Book
+from stayhouse.calendars import Calendar, Sale
 from stayhouse.counts import Counts
 from stayhouse.errors import BadText, Refused, StayError
 from stayhouse.limits import Limit, YearLimit
@@ -10,6 +12,7 @@ from stayhouse.promises import Promise
 from stayhouse.racks import Rack
 from stayhouse.rows import Row
 from stayhouse.sites import Site
+from stayhouse.stays import Stay
 from stayhouse.wishes import Wish
 
 GREATEST = 10 ** 30
@@ -25,7 +28,8 @@ ANY = [
     "self", "selfs", "A", "a1", "a b", " a", "a\n", "-", "0", "07", "12", "once 2 : a 1", "x" * 2000, (), ("a",),
     ("a", 0), ("a", 1, 2), (1, 2), [], ["a"], [0], [("a", 0)], [[]], {}, {"a": 1}, {1: 2}, {"a": "b"}, {(): 0}, work,
     Counts(), Counts(a=1), Limit(2, a=1), YearLimit(3, a=1), Promise(), Promise(Limit(2, a=1)), Row(), Row("a"), Rack(),
-    Rack(1), Site("a", "b", "c"), Wish("a", [("a", 0)]), Refused("carts", "a"),
+    Rack(1), Site("a", "b", "c"), Wish("a", [("a", 0)]), Refused("carts", "a"), Stay(0, 1), Book([1]),
+    Calendar(1, 0, 1), Sale("a", "a", Stay(0, 1)),
 ]
 
 
@@ -74,7 +78,7 @@ class StayTest(unittest.TestCase):
             with self.subTest(text=text):
                 self.raises(BadText(0, word), read, text)
 
-    def read_of(self, read, thing, longer=()):
+    def read_of(self, read, thing, longer=(), strangers=("?", "", "Self", "-1", "00", "a\n")):
         """The text of a thing is read; cut, with a strange word in it, or with one more, it is told at its word.
 
         longer: the numbers of words at which the text could end, too.
@@ -88,7 +92,7 @@ class StayTest(unittest.TestCase):
             if not isinstance(value, str):
                 self.raises(BadText(0, 0), read, value)
         for at in range(len(words) + 1):
-            for strange in ("?", "", "Self", "-1", "00", "a\n"):
+            for strange in strangers:
                 with self.subTest(text=text, at=at, strange=strange):
                     self.raises(BadText(0, at), read, " ".join(words[:at] + [strange] + words[at:]))
                     if at < len(words):

@@ -374,13 +374,16 @@ def generators(files):
     """Generators: L23."""
     found = []
     functions = [(file, node) for file in files for node in file.functions]
-    made = {node.name for _, node in functions if is_generator(node)}
+    made = {node.name: file.parents[node] for file, node in functions if is_generator(node)}
     for name in made:
         if len([node for _, node in functions if node.name == name]) > 1 or name in METHODS:
             found.append(f"L23 {name}")
     for file in files:
         for node in ast.walk(file.tree):
             named = isinstance(node, ast.Name) and node.id or isinstance(node, ast.Attribute) and node.attr
+            # An attribute may have the name of a generator that is no method: the document wants both `rows`.
+            if isinstance(node, ast.Attribute) and not isinstance(made.get(named), ast.ClassDef):
+                continue
             if named in made and isinstance(node.ctx, ast.Load):
                 call = file.parents[node]
                 if not isinstance(call, ast.Call) or call.func is not node:

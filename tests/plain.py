@@ -312,3 +312,30 @@ def plans_and_bays(seed, many):
     for _ in range(many):
         plan = some_plan(rng)
         yield plan, some_bays(rng, plan), rng
+
+
+def plain_play(plan, stock, row):
+    """What a plain house answers to each event of a row: what a coming guest gets, the word of the part that refuses him."""
+    house = PlainHouse(plan, stock)
+    return [house.come(event) if isinstance(event, str) else house.go(event) for event in row]
+
+
+def plain_refusal(plan, stock, most, most_rows=4000):
+    """The pair (row, part) of the least let row, of at most so many events, whose last one alone is refused; None without one.
+
+    It goes over all let rows, up to too many rows; so many events the rows had that were all looked at.
+    """
+    level = [()]
+    for length in range(most):
+        following = []
+        for row in level:
+            for event in let_events(plan, row):
+                behind = row + (event,)
+                answer = plain_play(plan, stock, behind)[-1]
+                if isinstance(answer, str):
+                    return (behind, answer), length + 1
+                following.append(behind)
+        level = following
+        if len(level) > most_rows:
+            return None, length + 1
+    return None, most

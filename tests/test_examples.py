@@ -209,10 +209,86 @@ raises Refused('lockers', 'walker')
 """
 
 
+JUDGE = """
+>>> from stayhouse.judge import Safe, Unsafe, is_safe, judge, least_stocks, needs, shortest_refusal
+>>> sites = [Site("near", "east", "front", 1), Site("far", "west", "back", 2)]
+>>> wishes = [Wish("rider", [("near", 0), ("far", 0)], cart=True, price=5), Wish("walker", [("far", 0)], size=2)]
+>>> plan = Plan(wishes, sites, Promise(Limit(2, rider=1, walker=1), YearLimit(3, rider=1)))
+>>> bays = {"near": 1, "far": 2}
+>>> [needs(plan, bays).carts, needs(plan, bays).sums, [str(stock) for stock in least_stocks(plan, bays, [0])]]
+[{'back': 1, 'front': 1}, {(1, 1): 15, (1, 2): 15, (2, 2): 10}, ['bays far 2 near 1 ; rack west 2 2 ; carts back 1 front 1 ; sums 15 10 ; caps 0']]
+>>> stock = Stock(bays, {"west": {2: 2}}, {"back": 1, "front": 1}, [15, 10], [0])
+>>> [is_safe(plan, stock), isinstance(judge(plan, stock), Safe), judge(plan, stock.with_carts("back", 0)) == Unsafe(("rider", "rider"), "carts")]
+[True, True, True]
+>>> [judge(plan, stock.with_sum(2, 9)) == Unsafe(("rider", "rider", 1, "rider"), "purse"), shortest_refusal(plan, stock.with_rack("west", [0, 1])), shortest_refusal(plan, stock.with_bays({"near": 2, "far": 2}))]
+[True, ('walker', 'walker'), ('rider', 'rider')]
+"""
+
+LOOK_JUDGE = """
+>>> from stayhouse.look_judge import shows_judge
+>>> found, late = judge(plan, stock), Unsafe(("walker", 0, "rider", "rider"), "carts")
+>>> [shows_judge(plan, stock, found), shows_judge(plan, stock.with_sum(1, 14), found), shows_judge(plan, stock.with_carts("back", 0), late), shows_judge(plan, stock, late), shows_judge(plan, stock.with_carts("back", 0), Unsafe(("rider", "rider"), "purse"))]
+[True, False, True, False, False]
+"""
+
+COMPARED = """
+>>> from stayhouse.compared import Alike, More, Parted, alike, closer, never_more, spoilers, spoils
+>>> from stayhouse.house import House
+>>> from stayhouse.limits import Limit
+>>> from stayhouse.look_compared import shows_alike, shows_never
+>>> from stayhouse.plans import Plan
+>>> from stayhouse.promises import Promise
+>>> from stayhouse.sites import Site
+>>> from stayhouse.stock import Stock
+>>> from stayhouse.wishes import Wish
+>>> wishes = [Wish("light", [("bay", 0)]), Wish("packed", [("bay", 0)], size=1)]
+>>> plan = Plan(wishes, [Site("bay", "hall", "gate", 1)], Promise(Limit(3, light=1, packed=1)))
+>>> few, more = [House(plan, Stock({"bay": 2}, {"hall": {1: many}}, {}, [0])) for many in (1, 2)]
+>>> [alike(few, more) == Parted(("packed", "packed"), "other"), never_more(few, more).row, never_more(more, few).row, closer(few, more), bool(alike(few, few))]
+[True, ('packed', 'packed'), ('packed', 'packed', 'light'), 'apart', True]
+>>> [spoils(few, more.stock).row, spoils(few, few.stock), list(spoilers(few))[:2]]
+[('packed', 'packed', 'light'), None, [('bay bay', ('light', 'light', 'packed', 0, 'packed')), ('locker hall 1', ('packed', 'packed', 'light'))]]
+>>> [shows_alike(few, more, Parted(("light", "packed", "packed"), "other")), shows_alike(few, more, Parted(("packed", "light", 1, "packed"), "other")), shows_never(more, few, More(("packed", "packed", "light")))]
+[False, True, True]
+>>> spoils(more, few.stock)
+raises BadStock('less')
+"""
+
+STAYS = """
+>>> from stayhouse.stays import Stay
+>>> week = Stay(3, 10)
+>>> [week.nights, 9 in week, 10 in week, True in Stay(0, 3), str(week >> 2), Stay(4, 6) <= week, Stay.read("3 to 10") == week]
+[7, True, False, False, '5 to 12', True, True]
+>>> Stay.read("3 to 2")
+raises BadStay('after')
+"""
+
+BOOKS = """
+>>> from stayhouse.books import Book
+>>> book, odd = Book([3, 2]), Book([1], [], [1], [])
+>>> [book.rows, str(odd), book(Stay(7, 9)), odd(Stay(3, 4)), [str(one) for one in book.let_stays(0, 4)], book.fills(Stay(0, 1)), book.fills(Stay(4, 11)), str(book | odd), book & odd == Book.none(), Book([2]) <= book]
+[((2, 3),), '1 / -', True, False, ['0 to 2', '0 to 3', '1 to 3', '1 to 4', '2 to 4'], False, True, '1 2 3 / 2 3', True, True]
+>>> [[str(one) for one in Book([3], [1]).row_for(Stay(1, 5))], Book([3], [1]).row_for(Stay(0, 2))]
+[['1 to 2', '2 to 5'], None]
+>>> Book.read("2 / 2")
+raises BadText(0, 0)
+"""
+
+CALENDARS = """
+>>> from stayhouse.calendars import Calendar, Sale
+>>> hall = Calendar(2, 0, 5, Sale("ann", "adult", Stay(0, 3)), Sale("bo", "child", Stay(1, 3)))
+>>> [[hall.free_on(day) for day in range(-1, 6)], [hall.supply(day) for day in range(6)], str(hall.standing_on(1)), str(hall["bo"]), str(hall - "ann"), str(hall.as_row())]
+[[0, 1, 0, 0, 2, 2, 0], [1, -1, 0, 2, 0, -2], 'adult 1 child 1', 'bo child 1 to 3', 'rooms 2 days 0 to 5 ; bo child 1 to 3', 'adult child 0 1']
+>>> hall + Sale("cy", "adult", Stay(2, 4))
+raises BadCalendar('full')
+"""
+
+
 class ExamplesTest(StayTest):
     def test_examples(self):
         names = {}
-        for text in (PAPERS, COUNTS, WISHES, LIMITS, PROMISES, ROWS, PLACES, FITTINGS, LOCKERS, CARTS, PURSE, HOUSES):
+        for text in (PAPERS, COUNTS, WISHES, LIMITS, PROMISES, ROWS, PLACES, FITTINGS, LOCKERS, CARTS, PURSE, HOUSES,
+                     JUDGE, LOOK_JUDGE, COMPARED, STAYS, BOOKS, CALENDARS):
             run_examples(self, text, names)
 
 

@@ -16,7 +16,8 @@ FUNCTIONS = {
     "carts": "gate_for back_of take give", "cart_needs": "need_of own_need most_out", "look_carts": "shows_need",
     "lines": "covered", "line_needs": "spent_in need_of_lines line_needs least_sums own_spent",
     "look_purse": "shows_covered shows_need_of_lines", "beats": "begin asked behind_coming behind_going",
-    "plays": "played first_refusal whole_behind",
+    "plays": "played first_refusal whole_behind", "judge": "judge is_safe shortest_refusal needs least_stocks", "look_judge": "shows_judge",
+    "compared": "alike never_more spoils spoilers closer", "look_compared": "shows_alike shows_never",
 }
 
 # The methods that stand in the body of each class itself.
@@ -48,6 +49,13 @@ CLASSES = {
     "beats": {"Given": "__init__"},
     "house": {"House": "__init__ come go __getitem__ __setitem__ __contains__ __len__ __iter__ wish_of plan now so_far free_bays "
                        "carts_now left moved_on whole free_in stock set_stock history undo redo trial tried led __eq__"},
+    "judge": {"Safe": "__init__", "Unsafe": "__init__", "Needs": "__init__"},
+    "compared": {"Alike": "__init__", "Parted": "__init__", "Never": "__init__", "More": "__init__"},
+    "stays": {"Stay": "__init__ nights __contains__ __lshift__ __rshift__ __le__ __eq__ __str__ read"},
+    "books": {"Book": "__init__ none __call__ let_stays row_for fills __or__ __and__ __le__ __eq__ __str__ read"},
+    "calendars": {"Sale": "__init__ __eq__ __str__",
+                  "Calendar": "__init__ __getitem__ __len__ __iter__ __contains__ __add__ __sub__ free_on supply standing_on sold as_row "
+                              "__eq__ __str__ read"},
 }
 
 

@@ -6,6 +6,8 @@ from helpers import ANY, StayTest
 
 from stayhouse.beats import Given
 from stayhouse.cart_needs import CartNeed, CartRing
+from stayhouse.compared import Alike, More, Never, Parted
+from stayhouse.judge import Needs, Safe, Unsafe
 from stayhouse.line_needs import LineNeed, LineRing
 from stayhouse.lines import Lacking, Moved
 from stayhouse.lockers import Fits, Short
@@ -15,8 +17,9 @@ from stayhouse.places import Crowded, Housed
 FIELDS = {
     Housed: "knots", Crowded: "row", Fits: "knots", Short: "row", CartNeed: "number heights row", CartRing: "row ring",
     LineNeed: "number heights row", LineRing: "row ring", Moved: "moves", Lacking: "i j", Given: "site locker gate line",
+    Safe: "places lockers carts sums", Unsafe: "row part", Needs: "carts sums", Alike: "table", Parted: "row taker", Never: "table", More: "row",
 }
-FALSE = (Crowded, Short, CartRing, LineRing, Lacking)
+FALSE = (Crowded, Short, CartRing, LineRing, Lacking, Unsafe, Parted, More)
 
 
 class PapersTest(StayTest):
