@@ -1,7 +1,7 @@
 """The affairs of a live house: who is there, what was done and undone."""
 
 from stayhouse.beats import Given
-from stayhouse.counts import Counts
+from stayhouse.counts import counts_in
 
 
 class Deed:
@@ -86,7 +86,7 @@ def place_among(names, name):
 
 def standing_of(parts):
     """The Counts of the wishes of those who are there."""
-    return Counts.of({name: guests_of(parts.things, name) for name in parts.scheme.names})
+    return counts_in({name: guests_of(parts.things, name) for name in parts.scheme.names})
 
 
 def guests_of(things, name):
@@ -97,12 +97,12 @@ def guests_of(things, name):
 def bays_left(parts):
     """The Counts of the free bays."""
     bays = parts.goods.bays
-    return Counts.of({site.name: bays[site.name] - parts.bays_out.get(site.name, 0) for site in parts.scheme.sites})
+    return counts_in({site.name: bays[site.name] - parts.bays_out.get(site.name, 0) for site in parts.scheme.sites})
 
 
 def carts_left(parts):
     """The Counts of the carts at all gates."""
-    return Counts.of({gate: parts.carts_at(gate) for gate in parts.scheme.gates})
+    return counts_in({gate: parts.carts_at(gate) for gate in parts.scheme.gates})
 
 
 def is_repeated(parts, past):

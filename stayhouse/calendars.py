@@ -3,7 +3,7 @@
 from stayhouse.books import MOST_DAYS
 from stayhouse.checks import GREATEST, is_integer, is_name, is_within
 from stayhouse.errors import BadCalendar, BadName, BadNumber, NoGuest, TooMany
-from stayhouse.rows import Row, counts_of
+from stayhouse.rows import counts_of, row_in
 from stayhouse.stays import Stay, check_stay, days_at, is_inside
 from stayhouse.words import name_at, number_at, stand_at, words_of
 
@@ -117,7 +117,7 @@ class Calendar:
             coming = [sale for sale in self.sales if sale.stay.first == day]
             events.extend([sale.wish for sale in coming])
             came.extend(coming)
-        return Row.of(events)
+        return row_in(events)
 
     def __eq__(self, other):
         return isinstance(other, Calendar) and calendar_parts(self) == calendar_parts(other)

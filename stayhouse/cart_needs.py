@@ -1,6 +1,6 @@
 """Needs of gates: how many carts let rows need there."""
 
-from stayhouse.counts import Counts
+from stayhouse.counts import counts_in
 from stayhouse.guides import Guide, check_plan
 from stayhouse.needs import Ways, check_taken, need_told, ring_told
 from stayhouse.papers import Denial, Paper, lasting
@@ -86,5 +86,5 @@ def most_of_both(plan, once, there):
 def most_out(plan):
     """The greatest number of guests who want a cart in a standing that comes about."""
     check_plan(plan)
-    guests, _ = greatest(plan.promise, Counts.of({wish.name: 1 for wish in plan.wishes if wish.cart}))
+    guests, _ = greatest(plan.promise, counts_in({wish.name: 1 for wish in plan.wishes if wish.cart}))
     return guests

@@ -1,6 +1,6 @@
 """Carts: where guests take them, and where they give them back."""
 
-from stayhouse.counts import Counts
+from stayhouse.counts import Counts, counts_in
 from stayhouse.errors import BadStock, NoSite, NoWish, Refused
 from stayhouse.guides import check_plan
 
@@ -42,11 +42,11 @@ def take(plan, carts, wish, site):
         return carts
     if carts[gate] == 0:
         raise Refused("carts", wish)
-    return carts - Counts.of({gate: 1})
+    return carts - counts_in({gate: 1})
 
 
 def give(plan, carts, wish, site):
     """The carts behind a going."""
     check_carts(plan, carts)
     gate = back_of(plan, wish, site)
-    return carts if gate is None else carts + Counts.of({gate: 1})
+    return carts if gate is None else carts + counts_in({gate: 1})

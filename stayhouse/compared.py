@@ -1,13 +1,13 @@
 """Two houses compared: whether they answer alike in all let rows, and whether one never refuses more."""
 
 from stayhouse.checks import MOST_SIZE
-from stayhouse.counts import Counts
+from stayhouse.counts import counts_in
 from stayhouse.doubles import Houses
 from stayhouse.errors import BadHouse, BadPlan, BadPromise, BadStock, TooMany
 from stayhouse.house import House
 from stayhouse.papers import Denial, Paper, lasting
 from stayhouse.parts import check_stock
-from stayhouse.racks import Rack
+from stayhouse.racks import rack_in
 from stayhouse.stock import Stock
 from stayhouse.trails import no_trail
 
@@ -214,11 +214,11 @@ def greater_stocks(plan, stock):
     """The list of the pairs (thing, stock) of all stocks with one more of one thing."""
     told = []
     for site in plan.sites:
-        told.append((f"bay {site.name}", stock.with_bays(stock.bays + Counts.of({site.name: 1}))))
+        told.append((f"bay {site.name}", stock.with_bays(stock.bays + counts_in({site.name: 1}))))
     for hall in plan.halls:
         rack = stock.rack(hall)
         for size in range(1, MOST_SIZE + 1):
-            told.append((f"locker {hall} {size}", stock.with_rack(hall, rack + Rack.of({size: 1}))))
+            told.append((f"locker {hall} {size}", stock.with_rack(hall, rack + rack_in({size: 1}))))
     for gate in sorted(set([site.gate for site in plan.sites])):
         told.append((f"cart {gate}", stock.with_carts(gate, stock.carts[gate] + 1)))
     for line, amount in enumerate(stock.sums, start=1):

@@ -52,11 +52,7 @@ class Counts:
     @staticmethod
     def of(numbers):
         """The Counts of a dict."""
-        if not isinstance(numbers, dict):
-            raise BadCounts("numbers")
-        # Keys of any kind are looked at here: only strings can be handed on by name.
-        check_numbers(numbers)
-        return Counts(**numbers)
+        return counts_in(numbers)
 
     @classmethod
     def read(cls, text):
@@ -64,7 +60,7 @@ class Counts:
         words = words_of(text)
         numbers, behind = numbers_at(words, 0, None)
         end_at(words, behind)
-        return cls.of(numbers)
+        return counts_in(numbers)
 
     def __len__(self):
         return len(self.names)
@@ -80,20 +76,20 @@ class Counts:
 
     def __add__(self, other):
         check_other(other)
-        return Counts.of({name: self[name] + other[name] for name in self.names + other.names})
+        return counts_in({name: self[name] + other[name] for name in self.names + other.names})
 
     def __sub__(self, other):
         if not other_at_most(self, other):
             raise BadCounts("less")
-        return Counts.of({name: self[name] - other[name] for name in self.names})
+        return counts_in({name: self[name] - other[name] for name in self.names})
 
     def __and__(self, other):
         check_other(other)
-        return Counts.of({name: min(int(self[name]), int(other[name])) for name in self.names})
+        return counts_in({name: min(int(self[name]), int(other[name])) for name in self.names})
 
     def __or__(self, other):
         check_other(other)
-        return Counts.of({name: max(int(self[name]), int(other[name])) for name in self.names + other.names})
+        return counts_in({name: max(int(self[name]), int(other[name])) for name in self.names + other.names})
 
     def __le__(self, other):
         check_other(other)
@@ -111,7 +107,7 @@ class Counts:
     def __mul__(self, number):
         if not is_amount(number):
             raise BadNumber(number)
-        return Counts.of({name: self[name] * number for name in self.names})
+        return counts_in({name: self[name] * number for name in self.names})
 
     def __eq__(self, other):
         return isinstance(other, Counts) and self._numbers == other._numbers
@@ -120,6 +116,15 @@ class Counts:
         if not self.names:
             return "-"
         return " ".join([f"{name} {written(self[name])}" for name in self.names])
+
+
+def counts_in(numbers):
+    """The Counts of any value that is a dict from names to amounts."""
+    if not isinstance(numbers, dict):
+        raise BadCounts("numbers")
+    # Keys of any kind are looked at here: only strings can be handed on by name.
+    check_numbers(numbers)
+    return Counts(**numbers)
 
 
 def other_at_most(counts, other):

@@ -133,6 +133,7 @@ class Joined(Fitting):
         self.other = other
         # How many joined ones stand within one another, this one among them.
         self.deep = deep
+        self.wordless = has_no_text(one) or has_no_text(other)
 
     def __call__(self, free, size):
         locker = self.one(free, size)
@@ -155,6 +156,11 @@ def joined_parts(joined):
 def deep_of(fitting):
     """How many joined fittings stand within one another."""
     return fitting.deep if isinstance(fitting, Joined) else 0
+
+
+def has_no_text(fitting):
+    """Whether a fitting is a By, or has one in it: what a function tells cannot be written."""
+    return fitting.wordless if isinstance(fitting, Joined) else isinstance(fitting, By)
 
 
 def are_lockers(size, lockers):

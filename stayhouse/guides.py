@@ -1,7 +1,7 @@
 """Guides: what places, and a hall, hand out to those who come, made ready to be asked often."""
 
 from stayhouse.checks import GREATEST, MOST_SIZE, is_within
-from stayhouse.counts import Counts
+from stayhouse.counts import Counts, counts_in
 from stayhouse.courses import Frame
 from stayhouse.errors import BadHouse, BadStock, NoHall
 from stayhouse.fittings import Least
@@ -28,7 +28,7 @@ def bays_of(plan, bays):
     for site in bays:
         if site not in names or not is_within(bays[site], 0, GREATEST):
             raise BadStock("bays")
-    return Counts.of({site: bays[site] for site in names if site in bays})
+    return counts_in({site: bays[site] for site in names if site in bays})
 
 
 def check_hall(plan, hall, rack):

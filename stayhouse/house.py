@@ -2,7 +2,7 @@
 
 from stayhouse.affairs import Affairs, Deed, bays_left, carts_left, is_repeated, standing_of
 from stayhouse.checks import is_name, is_sequence
-from stayhouse.counts import Counts
+from stayhouse.counts import counts_in
 from stayhouse.errors import BadHouse, BadName, BadRow, Barred, NoGuest, NoHall, NoWish, Refused, StayError
 from stayhouse.keepers import Keeper
 from stayhouse.lines import left_with, wanted_of
@@ -101,7 +101,7 @@ class House:
     @property
     def so_far(self):
         """The Counts of the wishes of all who were taken."""
-        return Counts.of(self.keeper.affairs.came)
+        return counts_in(self.keeper.affairs.came)
 
     @property
     def free_bays(self):
@@ -165,6 +165,15 @@ class House:
         return isinstance(other, House) and house_parts(self) == house_parts(other)
 
 
+def house_again(house):
+    """The House behind the history of a house, with nothing to do again; it goes its own way."""
+    affairs = house.keeper.affairs.copied()
+    affairs.undone = []
+    again = House(house.plan, house.stock)
+    again.keeper = Keeper(again, affairs)
+    return again
+
+
 def house_parts(house):
     """What makes houses equal."""
     return house.plan, house.stock, house.history
@@ -185,7 +194,7 @@ def check_comer(house, name, wish):
         raise BadHouse("there")
     if wish not in house.plan:
         raise NoWish(wish)
-    one = Counts.of({wish: 1})
+    one = counts_in({wish: 1})
     limits = house.plan.promise.limits
     if not are_kept(limits_that(limits, False), house.now + one):
         raise Barred("promise")

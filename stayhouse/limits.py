@@ -1,7 +1,7 @@
 """Limits: sums of guests, each with a weight, that have a bound."""
 
 from stayhouse.checks import GREATEST, is_amount, is_within
-from stayhouse.counts import Counts, numbers_at
+from stayhouse.counts import Counts, counts_in, numbers_at
 from stayhouse.errors import BadCounts, BadLimit, BadNumber
 from stayhouse.words import end_at, number_at, stand_at, word_at, words_of
 
@@ -18,7 +18,7 @@ def weighed(bound, weights):
     """The Weighed of any values; raises as the limits."""
     if not is_within(bound, 0, GREATEST):
         raise BadLimit("bound")
-    return Weighed(bound, Counts.of(weights))
+    return Weighed(bound, counts_in(weights))
 
 
 class Limit:

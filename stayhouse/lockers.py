@@ -6,7 +6,7 @@ from stayhouse.guides import Guide, Hall, bays_of, check_hall
 from stayhouse.knots import has_bool, is_hall_knot, is_things, sums_of
 from stayhouse.papers import Denial, Paper, lasting
 from stayhouse.places import MOST_LOOKED, how_many_below, knot_at, numbers_below, place_search
-from stayhouse.racks import Rack
+from stayhouse.racks import Rack, rack_in
 from stayhouse.webs import Search
 
 
@@ -42,7 +42,7 @@ def free_lockers(rack, things):
     left = [many - away.get(at + 1, 0) for at, many in enumerate(rack.nine)]
     if not all([many >= 0 for many in left]):
         raise BadHouse("things")
-    return Rack.of(left)
+    return rack_in(left)
 
 
 def hall_search(plan, bays, hall, rack):
@@ -175,6 +175,6 @@ def least_racks(plan, bays, hall):
 
 def racks_in_order(sizes, told):
     """The racks with told numbers of these sizes: the fewest lockers first, then the fewest of the greatest sizes."""
-    racks = [Rack.of({size: number for size, number in zip(sizes, numbers)}) for numbers in told]
+    racks = [rack_in({size: number for size, number in zip(sizes, numbers)}) for numbers in told]
     ordered = sorted(set([(rack.total,) + rack.nine[::-1] for rack in racks]))
-    return [Rack.of(numbers[:0:-1]) for numbers in ordered]
+    return [rack_in(numbers[:0:-1]) for numbers in ordered]

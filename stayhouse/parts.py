@@ -6,7 +6,7 @@ from stayhouse.errors import BadHouse, BadStock
 from stayhouse.fittings import Least
 from stayhouse.guides import check_plan
 from stayhouse.lines import can_pay
-from stayhouse.racks import Rack
+from stayhouse.racks import rack_in
 from stayhouse.stock import Stock, halls_of
 
 
@@ -76,7 +76,7 @@ class Parts:
     def free_rack(self, hall):
         """The Rack of the free lockers of a hall."""
         nine = self.goods.rack(hall).nine
-        return Rack.of([nine[at] - self.lockers_out.get((hall, at + 1), 0) for at in range(MOST_SIZE)])
+        return rack_in([nine[at] - self.lockers_out.get((hall, at + 1), 0) for at in range(MOST_SIZE)])
 
     def carts_at(self, gate):
         """How many carts are at a gate."""

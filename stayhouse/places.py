@@ -1,6 +1,6 @@
 """Places: who gets which bay, and whether anybody is refused in some let row."""
 
-from stayhouse.counts import Counts
+from stayhouse.counts import counts_in
 from stayhouse.errors import BadHouse, NoWish, TooMany
 from stayhouse.guides import Guide, bays_of, check_plan
 from stayhouse.knots import MOST_TRIPLES, has_bool, is_held, is_knot, sums_of
@@ -47,13 +47,13 @@ def check_held(held):
 def taken(held):
     """The Counts of the bays that a held takes, by site."""
     check_held(held)
-    return Counts.of(sums_of(held, 1))
+    return counts_in(sums_of(held, 1))
 
 
 def there(held):
     """The Counts of the guests of a held, by wish."""
     check_held(held)
-    return Counts.of(sums_of(held, 0))
+    return counts_in(sums_of(held, 0))
 
 
 def offer(plan, bays, held, wish):
@@ -73,7 +73,7 @@ def offer(plan, bays, held, wish):
 def enough(plan):
     """For each site so many bays that more of them change no offer in a let row."""
     check_plan(plan)
-    return Counts.of({site.name: enough_at(plan, site.name) for site in plan.sites})
+    return counts_in({site.name: enough_at(plan, site.name) for site in plan.sites})
 
 
 def enough_at(plan, site):
@@ -81,7 +81,7 @@ def enough_at(plan, site):
     keeps = {wish.name: wish.keep_at(site) for wish in plan.wishes if (wish.name, site) in plan.pairs}
     if not keeps:
         return 0
-    guests, _ = greatest(plan.promise, Counts.of({name: 1 for name in keeps}))
+    guests, _ = greatest(plan.promise, counts_in({name: 1 for name in keeps}))
     return guests + max([int(keeps[name]) for name in keeps])
 
 
@@ -196,7 +196,7 @@ def least_bays(plan):
         raise TooMany("bays", MOST_LOOKED)
     found = []
     for numbers in numbers_below(tops):
-        bays = Counts.of({name: number for name, number in zip(names, numbers)})
+        bays = counts_in({name: number for name, number in zip(names, numbers)})
         # More bays never hurt places: what is at least a found one is not looked at.
         if not any([less <= bays for less in found]) and not crowded_at(place_search(plan, bays)):
             found.append(bays)

@@ -55,9 +55,7 @@ class Promise:
     @staticmethod
     def of(limits):
         """The Promise of a list or tuple."""
-        if not is_sequence(limits):
-            raise BadPromise("limits")
-        return Promise(*limits)
+        return promise_in(limits)
 
     @classmethod
     def read(cls, text):
@@ -65,7 +63,7 @@ class Promise:
         words = words_of(text)
         if word_at(words, 0) == "-":
             end_at(words, 1)
-            return cls.of([])
+            return promise_in([])
         limit, at = limit_at(words, 0)
         limits = [limit]
         while at < len(words):
@@ -74,7 +72,7 @@ class Promise:
                 raise BadText(0, at)
             limit, at = limit_at(words, at + 1)
             limits.append(limit)
-        return cls.of(limits)
+        return promise_in(limits)
 
     def __len__(self):
         return len(self.limits)
@@ -88,7 +86,7 @@ class Promise:
     def __and__(self, other):
         if not isinstance(other, Promise):
             raise BadPromise("other")
-        return Promise.of(self.limits + lacked_by(self, other))
+        return promise_in(self.limits + lacked_by(self, other))
 
     def __le__(self, other):
         if not isinstance(other, Promise):
@@ -151,11 +149,18 @@ class Promise:
         year_peaks = self.year_peaks()
         found = []
         for at in range(len(self.limits)):
-            rest = Promise.of(self.limits[:at] + self.limits[at + 1:])
+            rest = promise_in(self.limits[:at] + self.limits[at + 1:])
             fewer = rest <= self
             if fewer and lets_all(self, peaks, year_peaks, rest):
                 found.append(at)
         return tuple(found)
+
+
+def promise_in(limits):
+    """The Promise of any value that is a list or tuple."""
+    if not is_sequence(limits):
+        raise BadPromise("limits")
+    return Promise(*limits)
 
 
 def standing_frame(promise):

@@ -31,12 +31,7 @@ class Rack:
     @staticmethod
     def of(numbers):
         """The Rack of a list or tuple, or of a dict from sizes to numbers."""
-        if is_sequence(numbers):
-            return Rack(*numbers)
-        if not isinstance(numbers, dict) or not all([is_within(size, 1, MOST_SIZE) for size in numbers]):
-            raise BadStock("lockers")
-        nine = [numbers.get(size, 0) for size in range(1, MOST_SIZE + 1)]
-        return Rack(*nine)
+        return rack_in(numbers)
 
     @classmethod
     def read(cls, text):
@@ -44,7 +39,7 @@ class Rack:
         words = words_of(text)
         numbers, behind = sizes_at(words, 0)
         end_at(words, behind)
-        return cls.of(numbers)
+        return rack_in(numbers)
 
     def __getitem__(self, size):
         check_size(size)
@@ -66,19 +61,19 @@ class Rack:
 
     def __add__(self, other):
         check_other(other)
-        return Rack.of([one + more for one, more in zip(self.nine, other.nine)])
+        return rack_in([one + more for one, more in zip(self.nine, other.nine)])
 
     def __sub__(self, other):
         check_other(other)
         rest = [one - less for one, less in zip(self.nine, other.nine)]
         if not all([number >= 0 for number in rest]):
             raise BadStock("less")
-        return Rack.of(rest)
+        return rack_in(rest)
 
     def __mul__(self, number):
         if not is_amount(number):
             raise BadNumber(number)
-        return Rack.of([one * number for one in self.nine])
+        return rack_in([one * number for one in self.nine])
 
     def __and__(self, other):
         check_other(other)
@@ -111,6 +106,16 @@ class Rack:
         return " ".join([f"{size} {written(self[size])}" for size in self.sizes])
 
 
+def rack_in(numbers):
+    """The Rack of any value that is a list or tuple, or a dict from sizes to numbers."""
+    if is_sequence(numbers):
+        return Rack(*numbers)
+    if not isinstance(numbers, dict) or not all([is_within(size, 1, MOST_SIZE) for size in numbers]):
+        raise BadStock("lockers")
+    nine = [numbers.get(size, 0) for size in range(1, MOST_SIZE + 1)]
+    return Rack(*nine)
+
+
 def sums_from(rack):
     """For each size how many lockers a rack has of it and of greater ones."""
     return [rack.from_size(size) for size in range(1, MOST_SIZE + 1)]
@@ -118,7 +123,7 @@ def sums_from(rack):
 
 def rack_with(sums):
     """The rack that has so many lockers from each size on."""
-    return Rack.of([more - less for more, less in zip(sums, sums[1:] + [0])])
+    return rack_in([more - less for more, less in zip(sums, sums[1:] + [0])])
 
 
 def stands_in(rack, other):

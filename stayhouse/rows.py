@@ -1,7 +1,7 @@
 """Rows of comings and goings."""
 
 from stayhouse.checks import is_name, is_sequence, is_within
-from stayhouse.counts import Counts
+from stayhouse.counts import counts_in
 from stayhouse.courses import Course, Frame, can_reach, courses_behind
 from stayhouse.errors import BadName, BadNumber, BadRow, BadText, TooMany
 from stayhouse.promises import check_promise
@@ -31,7 +31,7 @@ def counts_of(names):
     numbers = {}
     for name in names:
         numbers[name] = numbers.get(name, 0) + 1
-    return Counts.of(numbers)
+    return counts_in(numbers)
 
 
 def broken_at(promise, events):
@@ -70,9 +70,7 @@ class Row:
     @staticmethod
     def of(events):
         """The Row of a list or tuple."""
-        if not is_sequence(events):
-            raise BadRow("events")
-        return Row(*events)
+        return row_in(events)
 
     @classmethod
     def read(cls, text):
@@ -80,13 +78,13 @@ class Row:
         words = words_of(text)
         if word_at(words, 0) == "-":
             end_at(words, 1)
-            return cls.of([])
+            return row_in([])
         events = [event_of(word) for word in words]
         wrong = wrong_at(events[:MOST_EVENTS])
         if wrong is not None:
             raise BadText(0, wrong)
         end_at(words, MOST_EVENTS)
-        return cls.of(events)
+        return row_in(events)
 
     def __len__(self):
         return len(self.events)
@@ -95,13 +93,13 @@ class Row:
         return iter(self.events)
 
     def __add__(self, event):
-        return Row.of(self.events + (event,))
+        return row_in(self.events + (event,))
 
     def front(self, many):
         """The Row of the first events."""
         if not is_within(many, 0, len(self.events)):
             raise BadNumber(many)
-        return Row.of(self.events[:many])
+        return row_in(self.events[:many])
 
     def only(self, *names):
         """The Row of the events of guests of these wishes alone."""
@@ -121,7 +119,7 @@ class Row:
                 came += 1
             elif event in anew:
                 events.append(anew[event])
-        return Row.of(events)
+        return row_in(events)
 
     def __eq__(self, other):
         return isinstance(other, Row) and self.events == other.events
@@ -139,6 +137,13 @@ class Row:
         if not self.events:
             return "-"
         return " ".join([str(event) for event in self.events])
+
+
+def row_in(events):
+    """The Row of any value that is a list or tuple."""
+    if not is_sequence(events):
+        raise BadRow("events")
+    return Row(*events)
 
 
 def event_of(word):

@@ -1,10 +1,10 @@
 """Stocks: how many bays, lockers and carts a house has, its first sums and the caps between them."""
 
 from stayhouse.checks import is_amount, is_name, is_within
-from stayhouse.counts import Counts, numbers_at
+from stayhouse.counts import Counts, counts_in, numbers_at
 from stayhouse.errors import BadNumber, BadStock, BadText, NoGate, NoHall
 from stayhouse.lines import amounts_text, are_amounts
-from stayhouse.racks import Rack, sizes_at
+from stayhouse.racks import Rack, rack_in, sizes_at
 from stayhouse.words import amount_at, end_at, integer_of, name_at, stand_at, word_at, words_of
 
 
@@ -14,7 +14,7 @@ def counts_told(value, part):
         return value
     if not isinstance(value, dict) or not all([is_name(name) and is_amount(value[name]) for name in value]):
         raise BadStock(part)
-    return Counts.of(value)
+    return counts_in(value)
 
 
 def rack_told(value):
@@ -22,7 +22,7 @@ def rack_told(value):
     if isinstance(value, Rack):
         return value
     try:
-        return Rack.of(value)
+        return rack_in(value)
     except BadStock as why:
         raise BadStock("racks") from why
 

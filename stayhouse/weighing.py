@@ -4,7 +4,7 @@ The *column* of a name is the tuple of the pairs (index of a limit, weight above
 The *rests* are what is left of the bounds of all limits, in the order of the limits.
 """
 
-from stayhouse.counts import Counts
+from stayhouse.counts import counts_in
 from stayhouse.errors import TooMany
 
 MOST_TALLIES = 5000
@@ -78,7 +78,7 @@ def tallies(columns, bounds, what):
 
 def counts_from(names, numbers):
     """The Counts of names and their numbers."""
-    return Counts.of({name: number for name, number in zip(names, numbers) if number > 0})
+    return counts_in({name: number for name, number in zip(names, numbers) if number > 0})
 
 
 def full_tallies(columns, bounds, what):

@@ -45,7 +45,7 @@ ALLOWED_NODES = (
     ast.UnaryOp, ast.IfExp, ast.Dict, ast.Set, ast.ListComp, ast.SetComp, ast.DictComp, ast.Yield, ast.YieldFrom,
     ast.Compare, ast.Call, ast.FormattedValue, ast.JoinedStr, ast.Constant, ast.Attribute, ast.Subscript, ast.Starred,
     ast.Name, ast.List, ast.Tuple, ast.Slice, ast.comprehension, ast.expr_context, ast.boolop, ast.operator,
-    ast.unaryop, ast.cmpop, ast.Nonlocal)
+    ast.unaryop, ast.cmpop, ast.Nonlocal, ast.Lambda)
 AT_ONCE = set("list tuple dict sorted sum any all enumerate zip min max".split())
 
 

@@ -283,12 +283,88 @@ CALENDARS = """
 raises BadCalendar('full')
 """
 
+FILLS = """
+>>> from stayhouse.fills import Bar, Fill, fill_of, is_sellable
+>>> lone = Calendar(1, 0, 5, Sale("ann", "adult", Stay(1, 3)))
+>>> [fill_of(lone, book) == Bar((0, 2, 3, 4, 5)), is_sellable(Calendar(10 ** 30, 0, 5), book), bool(fill_of(hall, book))]
+[True, True, False]
+"""
+
+DOORS = """
+>>> from stayhouse.door import Closed, Door
+>>> from stayhouse.limits import Limit, YearLimit
+>>> from stayhouse.promises import Promise
+>>> door = Door(book, Promise(Limit(2, adult=1, child=1), YearLimit(2, adult=1)), 3, 0, 5)
+>>> [[str(stay) for stay in door.offers("adult")], door.why("adult", Stay(1, 3)).word, door.why("child", Stay(0, 4)) == Closed("let", None)]
+[['0 to 2', '0 to 3', '2 to 5', '3 to 5'], 'dead', True]
+>>> door.sell("ann", "adult", Stay(0, 3))
+>>> door["bo"] = ("adult", Stay(2, 5))
+>>> [door.why("child", Stay(0, 3)) == Closed("promise", 2), bool(door.why("child", Stay(0, 2))), door.why("adult", Stay(0, 2)).word, door.undo(), door.deeds]
+[True, True, 'year', 'sell', 1]
+"""
+
+LOOK_NIGHTS = """
+>>> from stayhouse.look_nights import shows_closed, shows_fill, shows_open
+>>> [shows_fill(lone, book, Bar((0, 2, 3))), shows_fill(Calendar(1, 0, 5), book, Fill(((Stay(0, 2), 1), (Stay(2, 5), 1)))), shows_closed(door, "child", Stay(0, 6), door.why("child", Stay(0, 6)))]
+[False, True, True]
+"""
+
+INNS = """
+>>> from stayhouse.inn import Inn
+>>> ride, walk = Wish("rider", [("near", 0), ("far", 0)], cart=True, price=5), Wish("walker", [("far", 0)], size=2)
+>>> town = Plan([ride, walk], [Site("near", "east", "front", 1), Site("far", "east", "back", 1)], Promise(Limit(3, rider=1, walker=1)))
+>>> inn = Inn(town, Stock({"near": 1, "far": 2}, {"east": {1: 1, 3: 1}}, {"front": 2}, [8]), Book([1, 2, 3]), 2, 0, 4)
+>>> inn.sell("ann", "rider", Stay(0, 2))
+>>> inn["bob"] = ("walker", Stay(0, 1))
+>>> [inn.due, inn.come("ann").site, inn.come("bob").site, inn.dawn(), inn.present, str(inn.row_now())]
+[('ann', 'bob'), 'near', 'far', ('bob',), ('ann',), 'rider walker 1']
+>>> inn.sell("cid", "rider", Stay(1, 3))
+>>> inn.come("cid")
+raises Refused('carts', 'rider')
+>>> [inn.dawn(), inn.due, inn.undo(), inn.due, inn.undo(), inn.undo(), inn.present]
+[('ann',), (), 'dawn', ('cid',), 'sell', 'dawn', ('ann', 'bob')]
+"""
+
+TEXTS = r"""
+>>> from stayhouse.reader import read_door, read_house, read_plan
+>>> from stayhouse.texts import door_text, house_text, plan_text
+>>> plan = house.plan
+>>> plan_text(plan).split("\n")
+['lines 1', 'site far east back 1', 'site near east front 1', 'wish rider : near 0 , far 0 ; size 0 ; cart same ; price 5', 'wish walker : far 0 ; size 2 ; cart none ; price 0', 'promise once 3 : rider 1 walker 1']
+>>> page = house_text(house)
+>>> [page.split("\n")[6:], read_house(page) == house, read_house("\n".join(page.split("\n")[:8])).now["rider"], read_plan(plan_text(plan)) == plan]
+[['stock bays far 2 near 1 ; rack east 1 1 3 1 ; carts front 2 ; sums 8 ; caps -', 'come ann rider', 'come bob walker'], True, 1, True]
+>>> door_text(door).split("\n")
+['book 2 3', 'promise once 2 : adult 1 child 1 ; year 2 : adult 1', 'calendar rooms 3 days 0 to 5 ; ann adult 0 to 3']
+>>> read_door(door_text(door)) == door
+True
+>>> read_house(page + "\ncome bob walker")
+raises BadText(9, 0)
+>>> read_house(page + "\ngo")
+raises BadText(9, 1)
+>>> read_plan("lines 1\nsite near east front 1\nwish rider : far 0 ; size 0 ; cart none ; price 0\npromise once 2 : rider 1")
+raises BadText(3, 0)
+>>> read_plan("lines 1")
+raises BadText(1, 0)
+"""
+
+DESKS = """
+>>> from stayhouse.desk import Desk
+>>> desk = Desk(inn)
+>>> desk.run("today", "there", "due", "why rider 1 to 3", "offers walker", "bays", "left", "dawn", "row", "undo")
+['0', 'ann bob', '-', 'open', '1 to 2 , 1 to 3 , 1 to 4 , 2 to 3 , 2 to 4 , 3 to 4', 'far 1', '3', 'bob', 'rider walker 1', 'dawn']
+>>> [desk("come cid"), desk("sell cid rider 0 to 1"), desk("sell cid rider 1 to 2"), desk("come cid"), desk("go bob"), desk("calendar")]
+['no cid', 'barred full', 'ok', 'barred day', 'far 3 - -', 'rooms 2 days 0 to 4 ; ann rider 0 to 2 ; bob walker 0 to 1 ; cid rider 1 to 2']
+>>> desk("sell cid rider 3 to 3")
+raises BadLine(5)
+"""
+
 
 class ExamplesTest(StayTest):
     def test_examples(self):
         names = {}
         for text in (PAPERS, COUNTS, WISHES, LIMITS, PROMISES, ROWS, PLACES, FITTINGS, LOCKERS, CARTS, PURSE, HOUSES,
-                     JUDGE, LOOK_JUDGE, COMPARED, STAYS, BOOKS, CALENDARS):
+                     JUDGE, LOOK_JUDGE, COMPARED, STAYS, BOOKS, CALENDARS, FILLS, DOORS, LOOK_NIGHTS, INNS, TEXTS, DESKS):
             run_examples(self, text, names)
 
 

@@ -18,6 +18,8 @@ FUNCTIONS = {
     "look_purse": "shows_covered shows_need_of_lines", "beats": "begin asked behind_coming behind_going",
     "plays": "played first_refusal whole_behind", "judge": "judge is_safe shortest_refusal needs least_stocks", "look_judge": "shows_judge",
     "compared": "alike never_more spoils spoilers closer", "look_compared": "shows_alike shows_never",
+    "fills": "fill_of is_sellable", "look_nights": "shows_fill shows_closed shows_open", "texts": "plan_text house_text door_text",
+    "reader": "read_plan read_house read_door",
 }
 
 # The methods that stand in the body of each class itself.
@@ -56,6 +58,13 @@ CLASSES = {
     "calendars": {"Sale": "__init__ __eq__ __str__",
                   "Calendar": "__init__ __getitem__ __len__ __iter__ __contains__ __add__ __sub__ free_on supply standing_on sold as_row "
                               "__eq__ __str__ read"},
+    "fills": {"Fill": "__init__", "Bar": "__init__"},
+    "door": {"Open": "", "Closed": "__init__",
+             "Door": "__init__ of why sell __setitem__ cancel offers __getitem__ __len__ __iter__ __contains__ calendar_now undo deeds trial tried "
+                     "twin __eq__"},
+    "inn": {"Inn": "__init__ sell __setitem__ cancel come go dawn __getitem__ __len__ __iter__ __contains__ today present due deeds row_now "
+                   "house_now calendar_now door_now undo trial tried twin __eq__"},
+    "desk": {"Desk": "__init__ say __call__ run inn_now"},
 }
 
 

@@ -7,6 +7,8 @@ from helpers import ANY, StayTest
 from stayhouse.beats import Given
 from stayhouse.cart_needs import CartNeed, CartRing
 from stayhouse.compared import Alike, More, Never, Parted
+from stayhouse.door import Closed
+from stayhouse.fills import Bar, Fill
 from stayhouse.judge import Needs, Safe, Unsafe
 from stayhouse.line_needs import LineNeed, LineRing
 from stayhouse.lines import Lacking, Moved
@@ -18,8 +20,9 @@ FIELDS = {
     Housed: "knots", Crowded: "row", Fits: "knots", Short: "row", CartNeed: "number heights row", CartRing: "row ring",
     LineNeed: "number heights row", LineRing: "row ring", Moved: "moves", Lacking: "i j", Given: "site locker gate line",
     Safe: "places lockers carts sums", Unsafe: "row part", Needs: "carts sums", Alike: "table", Parted: "row taker", Never: "table", More: "row",
+    Fill: "parts", Bar: "days", Closed: "word thing",
 }
-FALSE = (Crowded, Short, CartRing, LineRing, Lacking, Unsafe, Parted, More)
+FALSE = (Crowded, Short, CartRing, LineRing, Lacking, Unsafe, Parted, More, Bar, Closed)
 
 
 class PapersTest(StayTest):
