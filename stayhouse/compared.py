@@ -204,8 +204,9 @@ def spoilers(house):
     check_house(house)
     plan = house.plan
     own = house.stock
-    for thing, stock in greater_stocks(plan, own):
-        row = row_of_more(plan, stock, own)
+    # All of them are looked at ahead of the first one that is told: so what raises an error raises it there.
+    rows_of_things = [(thing, row_of_more(plan, stock, own)) for thing, stock in greater_stocks(plan, own)]
+    for thing, row in rows_of_things:
         if row is not None:
             yield thing, row
 

@@ -83,9 +83,11 @@ def why_told(inn, told):
 
 def offers_told(inn, told):
     """The answer to `offers`."""
-    check_wish(inn, told[0])
+    wish = told[0]
+    check_wish(inn, wish)
     door = inn.door_now()
-    return list_text([str(stay) for stay in door.offers(told[0])], " , ")
+    stays = [str(stay) for stay in door.offers(wish)]
+    return list_text(stays, " , ")
 
 
 def bays_told(inn, told):

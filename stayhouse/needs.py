@@ -14,25 +14,44 @@ from stayhouse.places import knot_at
 from stayhouse.trails import no_trail
 
 
+class Lanes:
+    """The steps of a search, as they are for all needs: the pairs (index of the stop behind, slot), -1 for a going."""
+
+    def __init__(self, search):
+        counted = search.guide.counted
+        inner = [[] for _ in search.stops]
+        outer = [[] for _ in search.stops]
+        for at, stop in enumerate(search.stops):
+            for name in stop.comings:
+                slot, behind = stop.comings[name]
+                table = outer if name in counted else inner
+                table[at].append((behind, slot))
+            for slot in stop.goings:
+                inner[at].append((stop.goings[slot], -1))
+        self.levels = levels_of(search.stops)
+        # The steps within levels, those to the next one, and the first ones the other way round.
+        self.inner = inner
+        self.outer = outer
+        self.back = turned(inner)
+
+
+def lanes_of(search):
+    """The Lanes of a search, made once."""
+    if search.lanes is None:
+        search.lanes = Lanes(search)
+    return search.lanes
+
+
 class Ways:
-    """The steps of a search, each with its worth: within levels, and to the next one."""
+    """The steps of a search, each with its worth: that of the comings by slot, and 0 for the goings behind them."""
 
     def __init__(self, search, toll):
         triples = search.guide.triples
         gives = [toll.gives[(name, site)] for name, site, _ in triples]
         self.search = search
-        self.worth = [toll.takes[(name, site)] - toll.gives[(name, site)] for name, site, _ in triples]
+        self.worth = [toll.takes[(name, site)] - toll.gives[(name, site)] for name, site, _ in triples] + [0]
         self.lent = lent_at(search, gives)
-        self.levels = levels_of(search.stops)
-        self.inner = [[] for _ in search.stops]
-        self.outer = [[] for _ in search.stops]
-        for at, stop in enumerate(search.stops):
-            for name in stop.comings:
-                slot, behind = stop.comings[name]
-                table = self.outer if name in search.guide.counted else self.inner
-                table[at].append((behind, self.worth[slot]))
-            for slot in stop.goings:
-                self.inner[at].append((stop.goings[slot], 0))
+        self.lanes = lanes_of(search)
 
     def endless(self):
         """The pair (index of a stop, wish) of a coming that can be gone and given back without end; None without."""
@@ -47,23 +66,23 @@ class Ways:
         """The greatest need at each knot over all rows that lead to it."""
         worth = [None] * len(self.lent)
         worth[0] = 0
-        for level in self.levels:
-            settle(worth, level, self.inner)
+        for level in self.lanes.levels:
+            settle(worth, level, self.lanes.inner, self.worth)
             for at in level:
-                for behind, more in self.outer[at]:
-                    if worth[behind] is None or worth[at] + more > worth[behind]:
-                        worth[behind] = worth[at] + more
+                for behind, slot in self.lanes.outer[at]:
+                    more = worth[at] + self.worth[slot]
+                    if worth[behind] is None or more > worth[behind]:
+                        worth[behind] = more
         return [more + lent for more, lent in zip(worth, self.lent)]
 
     def prospects(self):
         """The greatest sum, over all rows that go on from each knot, of their worth and the lent behind them."""
         worth = list(self.lent)
-        back = turned(self.inner)
-        for level in self.levels[::-1]:
+        for level in self.lanes.levels[::-1]:
             for at in level:
-                for behind, more in self.outer[at]:
-                    worth[at] = max(int(worth[at]), int(worth[behind] + more))
-            settle(worth, level, back)
+                for behind, slot in self.lanes.outer[at]:
+                    worth[at] = max(int(worth[at]), int(worth[behind] + self.worth[slot]))
+            settle(worth, level, self.lanes.back, self.worth)
         return worth
 
     def least_row(self):
@@ -125,13 +144,13 @@ def turned(links):
     """The links the other way round."""
     back = [[] for _ in links]
     for at, told in enumerate(links):
-        for behind, more in told:
-            back[behind].append((at, more))
+        for behind, slot in told:
+            back[behind].append((at, slot))
     return back
 
 
-def settle(worth, level, links):
-    """Raises the worth of the knots of a level to what its links, none above 0, bring from others."""
+def settle(worth, level, links, gains):
+    """Raises the worth of the knots of a level to what its links bring from others; none of them gains more than 0."""
     by_worth = {}
     for at in level:
         if worth[at] is not None:
@@ -142,9 +161,10 @@ def settle(worth, level, links):
         waiting.extend(by_worth[told])
     while waiting:
         at = waiting.pop()
-        for behind, more in links[at]:
-            if worth[behind] is None or worth[at] + more > worth[behind]:
-                worth[behind] = worth[at] + more
+        for behind, slot in links[at]:
+            more = worth[at] + gains[slot]
+            if worth[behind] is None or more > worth[behind]:
+                worth[behind] = more
                 waiting.append(behind)
 
 

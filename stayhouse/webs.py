@@ -36,6 +36,8 @@ class Search:
         self.guide = guide
         self.found = {}
         self.stops = []
+        # What is made of all the steps at once, when it is asked for.
+        self.lanes = None
         self.add_stop(Stop(0, guide.frame.bounds, guide.free, guide.nine, 0, no_trail()))
         at = 0
         while at < len(self.stops):

@@ -84,7 +84,7 @@ def findings(folder):
             found.append(f"L1 {name}")
     files = package_files(folder)
     for file in files:
-        for look in (characters, sizes, imports, module_level, nodes, names, calls, sets, doubles, bindings, orders):
+        for look in (characters, sizes, imports, module_level, nodes, lambdas, names, calls, sets, doubles, bindings, orders):
             found += [f"{rule} {file.name}.py:{line}" for rule, line in look(file, files)]
         found += [f"L6 {file.name}.py:{line}" for line in exits(file)]
     found += cycles(files) + generators(files) + operators(files) + classes(files)
@@ -185,6 +185,23 @@ def nodes(file, files):
                 yield "L20", node.lineno
         if isinstance(node, ast.BinOp) and isinstance(node.op, ast.Pow) and not isinstance(node.right, ast.Constant):
             yield "L27", node.lineno
+
+
+def lambdas(file, files):
+    """Lambdas and handlers: L4, L13, L19."""
+    lines = {}
+    for node in ast.walk(file.tree):
+        if isinstance(node, ast.Lambda):
+            if node.args.vararg or node.args.kwarg or node.args.kwonlyargs or node.args.defaults:
+                yield "L4", node.lineno
+            lines.setdefault((node.lineno, tuple(one.arg for one in node.args.args)), []).append(node)
+    for (line, _), found in lines.items():
+        if len(found) > 1:
+            yield "L13", line
+    for node in file.functions:
+        caught = [one.name for one in ast.walk(node) if isinstance(one, ast.ExceptHandler) and one.name]
+        if len(set(caught)) < len(caught):
+            yield "L19", node.lineno
 
 
 def names(file, files):

@@ -293,6 +293,16 @@ class SpoilsTest(StayTest):
         house.stock = MORE.stock
         self.assertEqual([first] + list(told), list(spoilers(FEW)))
 
+    def test_errors_come_ahead_of_the_first_one(self):
+        # One bay more spoils at once; one more in the sum makes no row less, of too many doubles.
+        wishes = [Wish("light", [("bay", 0)]), Wish("packed", [("bay", 0)], size=1), Wish("payer", [("nook", 0)], price=1)]
+        sites = [Site("bay", "hall", "gate", 1), Site("nook", "attic", "gate", 1)]
+        promise = Promise(Limit(3, light=1, packed=1, payer=3))
+        house = House(Plan(wishes, sites, promise), Stock({"bay": 2, "nook": 1}, {"hall": [1]}, None, [10 ** 9]))
+        self.assertEqual(spoils(house, house.stock.with_bays({"bay": 3, "nook": 1})).row, ("light", "light", "packed", 0, "packed"))
+        self.raises(TooMany("standings", 20000), lambda: next(spoilers(house)))
+        self.assertEqual(next(spoilers(House(house.plan, house.stock.with_sum(1, 9))))[0], "bay bay")
+
     def test_same_stock(self):
         for house, _, _ in pairs_beside(126, 30):
             try:
